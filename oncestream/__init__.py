@@ -1,0 +1,1 @@
+"""Oncestream: a stream engine that counts each row once."""

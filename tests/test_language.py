@@ -1,0 +1,221 @@
+"""The files of the package keep to the subset of Python that they are written in, as far as a test can see it."""
+
+import ast
+import builtins
+import os
+import re
+import unittest
+
+TOP = os.path.dirname(os.path.dirname(os.path.abspath(__file__)))
+FOLDER = os.path.join(TOP, "oncestream")
+INTERFACE = os.path.join(TOP, "tests", "interface.txt")
+
+BUILTINS = set("""len range enumerate zip min max sum abs sorted reversed int str bool list tuple dict set frozenset
+    isinstance ord repr any all divmod Exception ValueError TypeError KeyError IndexError LookupError ZeroDivisionError
+    ArithmeticError OverflowError RuntimeError NotImplementedError super""".split())
+METHODS = set("""append clear copy count endswith extend find get index insert isalnum isalpha isdigit islower isspace
+    isupper items join keys ljust lower lstrip partition pop remove replace reverse rfind rjust rpartition rsplit rstrip
+    setdefault split splitlines startswith strip update upper values zfill bit_length add discard __init__""".split())
+BARRED = set("""register mro elements open input law version_info with_traceback add_note attrgetter breakpoint builtins
+    compile copyright credits delattr dir eval exec exit gc globals help id importlib license locals methodcaller os quit
+    type vars sys typing enum Generic Protocol ABC namedtuple dataclass""".split())
+STATEMENTS = (ast.Assign, ast.AugAssign, ast.If, ast.While, ast.For, ast.Return, ast.Break, ast.Continue, ast.Pass,
+              ast.Raise, ast.Expr, ast.Try, ast.FunctionDef, ast.ClassDef, ast.ImportFrom, ast.Delete, ast.Assert)
+
+
+def files():
+    """The pairs (name, text) of all files of the package."""
+    found = []
+    for name in sorted(os.listdir(FOLDER)):
+        if name != "__pycache__":
+            with open(os.path.join(FOLDER, name), encoding="utf-8", newline="") as lines:
+                found.append((name, lines.read()))
+    return found
+
+
+FILES = [(name, text, ast.parse(text)) for name, text in files()]
+
+
+def bound_names(tree):
+    """All names that are given a meaning in a file, imports apart."""
+    found = []
+    for node in ast.walk(tree):
+        if isinstance(node, (ast.FunctionDef, ast.ClassDef)):
+            found.append(node.name)
+        elif isinstance(node, ast.arg):
+            found.append(node.arg)
+        elif isinstance(node, ast.Name) and not isinstance(node.ctx, ast.Load):
+            found.append(node.id)
+    return found
+
+
+def defined(tree):
+    """What a file defines at module level: the dict from the names to the nodes."""
+    found = {}
+    for node in tree.body:
+        if isinstance(node, (ast.FunctionDef, ast.ClassDef)):
+            found[node.name] = node
+        elif isinstance(node, ast.Assign):
+            found[node.targets[0].id] = node
+    return found
+
+
+def imports(tree):
+    return [node for node in ast.walk(tree) if isinstance(node, (ast.Import, ast.ImportFrom))]
+
+
+class Language(unittest.TestCase):
+    def nodes(self, kinds):
+        for name, _, tree in FILES:
+            for node in ast.walk(tree):
+                if isinstance(node, kinds):
+                    yield f"{name}:{getattr(node, 'lineno', 0)}", node
+
+    def test_files_and_characters(self):
+        self.assertIn("__init__.py", [name for name, _, _ in FILES])
+        for name, text, _ in FILES:
+            self.assertRegex(name, r"^[a-z0-9_]+\.py$")
+            self.assertEqual([sign for sign in set(text) if not (sign == "\n" or " " <= sign <= "~")], [], name)
+
+    def test_sizes(self):
+        for name, text, _ in FILES:
+            self.assertLessEqual(len(text.splitlines()), 399, name)
+            for number, line in enumerate(text.splitlines(), 1):
+                self.assertLessEqual(len(line), 120, f"{name}:{number}")
+        for where, node in self.nodes(ast.FunctionDef):
+            self.assertLessEqual(node.end_lineno - node.lineno + 1, 40, where)
+
+    def test_imports(self):
+        table = {name: defined(tree) for name, _, tree in FILES}
+        for name, _, tree in FILES:
+            for node in imports(tree):
+                self.assertIsInstance(node, ast.ImportFrom, name)
+                self.assertIn(node, tree.body)
+                self.assertEqual(node.level, 0)
+                package, file = node.module.split(".")
+                self.assertEqual(package, "oncestream")
+                for alias in node.names:
+                    self.assertIsNone(alias.asname)
+                    self.assertIn(alias.name, table[file + ".py"], f"{name}: {alias.name}")
+            kinds = [isinstance(node, ast.ImportFrom) for node in tree.body if not isinstance(node, ast.Expr)]
+            self.assertEqual(kinds, sorted(kinds, reverse=True), f"{name}: imports stand at the top")
+
+    def test_no_circles_of_imports(self):
+        ahead = {name[:-3]: [node.module.split(".")[1] for node in imports(tree)] for name, _, tree in FILES}
+        done = []
+        while len(done) < len(ahead):
+            free = [name for name in ahead if name not in done and all(other in done for other in ahead[name])]
+            self.assertTrue(free, sorted(set(ahead) - set(done)))
+            done += free
+
+    def test_module_level(self):
+        for name, _, tree in FILES:
+            for at, node in enumerate(tree.body):
+                if isinstance(node, ast.Expr):
+                    self.assertTrue(at == 0 and isinstance(node.value, ast.Constant), name)
+                    continue
+                self.assertIsInstance(node, (ast.ImportFrom, ast.FunctionDef, ast.ClassDef, ast.Assign), name)
+                if isinstance(node, ast.Assign):
+                    self.assertEqual([type(target) for target in node.targets], [ast.Name], name)
+                    for inner in ast.walk(node.value):
+                        self.assertIsInstance(inner, (ast.Constant, ast.Tuple, ast.List, ast.Dict, ast.Name, ast.Load), name)
+            names = [node.targets[0].id if isinstance(node, ast.Assign) else node.name for node in tree.body
+                     if isinstance(node, (ast.Assign, ast.FunctionDef, ast.ClassDef))]
+            names += [alias.name for node in imports(tree) for alias in node.names]
+            self.assertEqual(len(names), len(set(names)), name)
+
+    def test_statements(self):
+        for where, node in self.nodes(ast.stmt):
+            self.assertIsInstance(node, STATEMENTS, where)
+        for where, node in self.nodes((ast.FunctionDef, ast.ClassDef)):
+            self.assertEqual(node.decorator_list, [], where)
+
+    def test_values(self):
+        for where, node in self.nodes((ast.Div, ast.Set, ast.Await, ast.FloorDiv)):
+            self.assertIsInstance(node, ast.FloorDiv, where)
+        for where, node in self.nodes(ast.Constant):
+            self.assertIsInstance(node.value, (int, str, type(None)), where)
+            if isinstance(node.value, str):
+                self.assertNotIn("%", node.value, where)
+                self.assertEqual(re.findall(r"\b__|__\b", node.value), [], where)
+        for where, node in self.nodes(ast.Compare):
+            for sign, other in zip(node.ops, node.comparators):
+                if isinstance(sign, (ast.Is, ast.IsNot)):
+                    self.assertTrue(isinstance(other, ast.Constant) and other.value in (None, True, False), where)
+
+    def test_builtins_and_methods(self):
+        own = {found for _, _, tree in FILES for found in bound_names(tree)}
+        for where, node in self.nodes(ast.Name):
+            if node.id in vars(builtins) and isinstance(node.ctx, ast.Load):
+                self.assertIn(node.id, BUILTINS, where)
+        for where, node in self.nodes(ast.Call):
+            if isinstance(node.func, ast.Attribute):
+                self.assertIn(node.func.attr, METHODS | own, where)
+            if isinstance(node.func, ast.Name) and node.func.id in vars(builtins):
+                for keyword in node.keywords:
+                    self.assertIn((node.func.id, keyword.arg), {("sorted", "key"), ("sorted", "reverse"), ("min", "key"),
+                                                                ("max", "key"), ("min", "default"), ("max", "default")}, where)
+
+    def test_names(self):
+        for name, _, tree in FILES:
+            imported = {alias.name for node in imports(tree) for alias in node.names}
+            classes = {node.name for node in tree.body if isinstance(node, ast.ClassDef)}
+            for found in bound_names(tree):
+                self.assertTrue(re.fullmatch(r"_?[A-Za-z][A-Za-z0-9_]*|_|__init__", found), f"{name}: {found}")
+                self.assertNotIn(found, vars(builtins), name)
+                self.assertNotIn(found, BARRED, name)
+                self.assertNotIn(found, imported, name)
+            locals_of = [found for node in ast.walk(tree) if isinstance(node, ast.FunctionDef)
+                         for inner in node.body for found in bound_names(inner)]
+            self.assertEqual(set(locals_of) & classes, set(), name)
+
+    def test_sets_and_generators(self):
+        """A set() stands in sorted(..) or len(..) alone; a generator expression in what goes over it at once."""
+        for name, _, tree in FILES:
+            above = {inner: node for node in ast.walk(tree) for inner in ast.iter_child_nodes(node)}
+            for node in ast.walk(tree):
+                if isinstance(node, ast.Call) and isinstance(node.func, ast.Name):
+                    outer = above[node]
+                    caller = outer.func.id if isinstance(outer, ast.Call) and isinstance(outer.func, ast.Name) else None
+                    if node.func.id == "set":
+                        self.assertIn(caller, ("sorted", "len"), f"{name}:{node.lineno}")
+                    if node.func.id in ("zip", "enumerate", "reversed", "range"):
+                        is_gone_over = isinstance(outer, (ast.For, ast.comprehension)) or caller in ("list", "tuple", "zip")
+                        self.assertTrue(is_gone_over, f"{name}:{node.lineno}")
+                if isinstance(node, ast.GeneratorExp):
+                    self.assertIn(above[node].func.id, ("list", "tuple", "dict", "sorted", "sum", "min", "max", "any", "all"))
+
+    def test_words_that_are_not_used(self):
+        for name, _, tree in FILES:
+            for node in ast.walk(tree):
+                if isinstance(node, ast.Constant) and isinstance(node.value, str):
+                    self.assertEqual(set(re.findall(r"\w+", node.value)) & {"type", "typing", "enum"}, set(), name)
+
+
+class Interface(unittest.TestCase):
+    def test_each_function_is_defined_where_the_interface_lists_it(self):
+        table, done = {name: defined(tree) for name, _, tree in FILES}, 0
+        with open(INTERFACE, encoding="utf-8") as lines:
+            lines = [line.strip() for line in lines]
+        for at, line in enumerate(lines):
+            if not line.startswith("### oncestream/") or line.endswith("errors.py"):
+                continue
+            file = line[len("### oncestream/"):]
+            for told in re.split(r"[;.] ", lines[at + 1]):
+                name, _, arguments = told.rstrip(").").partition("(")
+                if name.startswith("Bad"):
+                    continue
+                if name == "END":
+                    continue
+                self.assertIsInstance(table[file][name], ast.FunctionDef, told)
+                found = [argument.arg for argument in table[file][name].args.args]
+                self.assertEqual(len(found), len(arguments.split(", ")), told)
+                for one, other in zip(found, arguments.split(", ")):
+                    # The subset bars this one name; arguments are passed by position.
+                    self.assertTrue(one == other or other == "input", told)
+                done += 1
+        self.assertGreaterEqual(done, 29)
+
+
+if __name__ == "__main__":
+    unittest.main()
