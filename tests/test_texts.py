@@ -85,7 +85,7 @@ class Writing(unittest.TestCase):
             for cut in (50, 99, 100, len(text) - 1):
                 if cut < len(text) - 1 or text[-1] == ")":
                     self.assertEqual(place(read_expression, text[:cut]), cut if text[:cut] != "!" * 99 + "a" else None)
-        deepest = "(" * 150 + "a" + " + 1)" * 150
+        deepest = "(" * 120 + "a" + " + 1)" * 120
         self.assertEqual(expression_text(read_expression(deepest)), deepest)
 
 
