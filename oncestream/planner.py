@@ -48,7 +48,7 @@ def _is_same(plan, value):
         one, other = waiting.pop()
         if isinstance(one, tuple) and isinstance(other, tuple) and len(one) == len(other):
             waiting.extend(list(zip(one, other)))
-        elif isinstance(one, tuple) or isinstance(other, bool) or one != other:
+        elif isinstance(other, bool) or one != other:
             return False
     return True
 
