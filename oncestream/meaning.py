@@ -7,7 +7,7 @@ from oncestream.bags import bag_of, row_rank
 from oncestream.expressions import holds, worth
 from oncestream.marks import END, is_mark
 from oncestream.queries import all_columns, made_of, out_of, sources_of, step_of, wanted_of
-from oncestream.values import is_row, rank
+from oncestream.values import is_row, rank, values_of
 
 
 def _is_entry(columns, value):
@@ -111,17 +111,11 @@ def _made_row(columns, told, row):
     return (row[0], row[1], tuple([worth(columns, e, row[2]) for _, e in told]))
 
 
-def _values_of(columns, names, row):
-    """The values of a row in the columns with these names."""
-    found = {column[0]: value for column, value in zip(columns, row[2])}
-    return tuple([found[name] for name in names])
-
-
 def _by_keys(columns, keys, given):
     """The pairs (row, lot) of each tuple of values of the keys."""
     groups = {}
     for row, lot in given:
-        groups.setdefault(_values_of(columns, keys, row), []).append((row, lot))
+        groups.setdefault(values_of(columns, keys, row[2]), []).append((row, lot))
     return groups
 
 
@@ -199,9 +193,9 @@ def _join_rows(left, right, step, given, other):
     by_keys = _by_keys(right, step[3], other)
     found = []
     for row, lot in given:
-        for partner, more in by_keys.get(_values_of(left, step[3], row), []):
+        for partner, more in by_keys.get(values_of(left, step[3], row[2]), []):
             if row[0] - step[4] <= partner[0] <= row[0] + step[5]:
-                values = row[2] + _values_of(right, rest, partner)
+                values = row[2] + values_of(right, rest, partner[2])
                 found.append(((max(row[0], partner[0]), row[1] * partner[1], values), _together(lot, more)))
     return found
 

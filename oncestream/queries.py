@@ -16,6 +16,11 @@ def made_of(step):
     return (step[1], step[2]) if step[0] in ("both", "join") else (step[1],)
 
 
+def keys_of(step):
+    """The names of the keys of a sum, of its two halves, or of a join."""
+    return step[3] if step[0] == "join" else step[2]
+
+
 def told_expressions(step):
     """The expressions that stand in a step, in order."""
     if step[0] == "keep":
@@ -174,7 +179,7 @@ def _has_bad_key(step, known):
     """Whether a key of a sum or a join is told twice, or is no column, or one of two kinds."""
     if step[0] not in ("sum", "join"):
         return False
-    keys = step[2] if step[0] == "sum" else step[3]
+    keys = keys_of(step)
     if not are_unlike(keys):
         return True
     tables = [dict(known[of]) for of in made_of(step)]

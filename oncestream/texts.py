@@ -1,9 +1,9 @@
 """The language: queries and expressions as texts, written and read."""
 
 from oncestream.errors import BadText
+from oncestream.reading import behind_word, need_end, read_integer, read_number, read_one_of, run_end
 from oncestream.values import LETTERS, MOST_LETTERS, MOST_SIGNS, SIGNS
 
-DIGITS = "0123456789"
 MOST_DIGITS = 9
 
 # How each word with two parts is written between them.
@@ -72,42 +72,8 @@ def query_text(query):
     return "\n".join(lines + ["out " + query[-1][1]])
 
 
-# What follows reads from a place on, and returns what it has read and the place behind it. What has been
-# read can always be gone on with: so the first sign that does not fit stands at the place that is told.
-
-
-def _agreed(text, at, word):
-    """How many signs of the word stand at this place."""
-    many = 0
-    while many < len(word) and text[at + many:at + many + 1] == word[many]:
-        many += 1
-    return many
-
-
-def _read_one_of(text, at, words):
-    """The one that stands here of these words, of which none is a beginning of another."""
-    many = [_agreed(text, at, word) for word in words]
-    for word, agreed in zip(words, many):
-        if agreed == len(word):
-            return word, at + agreed
-    raise BadText(at + max(many))
-
-
-def _behind(text, at, word):
-    """The place behind the word that must stand here."""
-    return _read_one_of(text, at, [word])[1]
-
-
-def _run_end(text, at, signs, most):
-    """The place behind the signs of this sort that stand here, at most so many."""
-    end = at
-    while end < len(text) and end < at + most and text[end] in signs:
-        end += 1
-    return end
-
-
 def _read_name(text, at):
-    end = _run_end(text, at, LETTERS, MOST_LETTERS)
+    end = run_end(text, at, LETTERS, MOST_LETTERS)
     if end == at:
         raise BadText(at)
     return text[at:end], end
@@ -115,26 +81,13 @@ def _read_name(text, at):
 
 def _read_number(text, at):
     """An integer from 0 on."""
-    # A nought ahead of other digits would be needless, so it ends the number.
-    most = 1 if text[at:at + 1] == "0" else MOST_DIGITS
-    end = _run_end(text, at, DIGITS, most)
-    if end == at:
-        raise BadText(at)
-    return int(text[at:end]), end
-
-
-def _read_negative(text, at):
-    """An integer below 0, of which the - has been read."""
-    if text[at:at + 1] == "0":
-        raise BadText(at)
-    number, at = _read_number(text, at)
-    return -number, at
+    return read_number(text, at, MOST_DIGITS)
 
 
 def _read_quoted(text, at):
     """The text of a value, of which the first quote has been read."""
-    end = _run_end(text, at, SIGNS, MOST_SIGNS)
-    return text[at:end], _behind(text, end, '"')
+    end = run_end(text, at, SIGNS, MOST_SIGNS)
+    return text[at:end], behind_word(text, end, '"')
 
 
 def _read_brackets(text, at):
@@ -142,12 +95,12 @@ def _read_brackets(text, at):
     if text[at:at + 1] == ")":
         return ("value", None), at + 1
     one, at = _read_part(text, at)
-    between, at = _read_one_of(text, _behind(text, at, " "), list(WORDS))
+    between, at = read_one_of(text, behind_word(text, at, " "), list(WORDS))
     other, at = _read_part(text, at)
     if WORDS[between] != "if":
-        return (WORDS[between], one, other), _behind(text, at, ")")
-    third, at = _read_part(text, _behind(text, at, " : "))
-    return ("if", one, other, third), _behind(text, at, ")")
+        return (WORDS[between], one, other), behind_word(text, at, ")")
+    third, at = _read_part(text, behind_word(text, at, " : "))
+    return ("if", one, other, third), behind_word(text, at, ")")
 
 
 def _read_part(text, at):
@@ -160,19 +113,12 @@ def _read_part(text, at):
         return ("not", part), at
     if first == '"':
         value, at = _read_quoted(text, at + 1)
-    elif first == "-":
-        value, at = _read_negative(text, at + 1)
-    elif first.isdigit():
-        value, at = _read_number(text, at)
+    elif first == "-" or first.isdigit():
+        value, at = read_integer(text, at, MOST_DIGITS)
     else:
         name, at = _read_name(text, at)
         return ("column", name), at
     return ("value", value), at
-
-
-def _need_end(text, at):
-    if at < len(text):
-        raise BadText(at)
 
 
 def _need_text(text):
@@ -184,7 +130,7 @@ def read_expression(text):
     """The expression that a text tells; raises BadText if it tells none."""
     _need_text(text)
     e, at = _read_part(text, 0)
-    _need_end(text, at)
+    need_end(text, at)
     return e
 
 
@@ -195,38 +141,38 @@ def _read_list(text, at, read_one):
     one, at = read_one(text, at)
     members = [one]
     while text[at:at + 1] == ",":
-        one, at = read_one(text, _behind(text, at, ", "))
+        one, at = read_one(text, behind_word(text, at, ", "))
         members.append(one)
     return tuple(members), at
 
 
 def _read_column(text, at):
     name, at = _read_name(text, at)
-    kind, at = _read_one_of(text, _behind(text, at, " "), ["number", "text"])
+    kind, at = read_one_of(text, behind_word(text, at, " "), ["number", "text"])
     return (name, kind), at
 
 
 def _read_made(text, at):
     """A column of a make."""
     name, at = _read_name(text, at)
-    e, at = _read_part(text, _behind(text, at, " = "))
+    e, at = _read_part(text, behind_word(text, at, " = "))
     return (name, e), at
 
 
 def _read_summed(text, at):
     """A column of a sum."""
     name, at = _read_name(text, at)
-    how, at = _read_one_of(text, _behind(text, at, " = "), ["count ", "sum ", "least ", "greatest "])
+    how, at = read_one_of(text, behind_word(text, at, " = "), ["count ", "sum ", "least ", "greatest "])
     e, at = _read_part(text, at)
     return (name, how.strip(), e), at
 
 
 def _read_window(text, at):
-    word, at = _read_one_of(text, at, ["even ", "sliding ", "session "])
+    word, at = read_one_of(text, at, ["even ", "sliding ", "session "])
     number, at = _read_number(text, at)
     if word != "sliding ":
         return (word.strip(), number), at
-    step, at = _read_number(text, _behind(text, at, " "))
+    step, at = _read_number(text, behind_word(text, at, " "))
     return ("sliding", number, step), at
 
 
@@ -237,36 +183,36 @@ def _read_source(text, at):
 
 def _read_keep(text, at):
     of, at = _read_name(text, at)
-    e, at = _read_part(text, _behind(text, at, " where "))
+    e, at = _read_part(text, behind_word(text, at, " where "))
     return ("keep", of, e), at
 
 
 def _read_make(text, at):
     of, at = _read_name(text, at)
-    told, at = _read_list(text, _behind(text, at, " with "), _read_made)
+    told, at = _read_list(text, behind_word(text, at, " with "), _read_made)
     return ("make", of, told), at
 
 
 def _read_both(text, at):
     left, at = _read_name(text, at)
-    right, at = _read_name(text, _behind(text, at, " "))
+    right, at = _read_name(text, behind_word(text, at, " "))
     return ("both", left, right), at
 
 
 def _read_sum(text, at):
     of, at = _read_name(text, at)
-    keys, at = _read_list(text, _behind(text, at, " by "), _read_name)
-    window, at = _read_window(text, _behind(text, at, " in "))
-    told, at = _read_list(text, _behind(text, at, " with "), _read_summed)
+    keys, at = _read_list(text, behind_word(text, at, " by "), _read_name)
+    window, at = _read_window(text, behind_word(text, at, " in "))
+    told, at = _read_list(text, behind_word(text, at, " with "), _read_summed)
     return ("sum", of, keys, window, told), at
 
 
 def _read_join(text, at):
     left, at = _read_name(text, at)
-    right, at = _read_name(text, _behind(text, at, " "))
-    keys, at = _read_list(text, _behind(text, at, " by "), _read_name)
-    back, at = _read_number(text, _behind(text, at, " back "))
-    ahead, at = _read_number(text, _behind(text, at, " ahead "))
+    right, at = _read_name(text, behind_word(text, at, " "))
+    keys, at = _read_list(text, behind_word(text, at, " by "), _read_name)
+    back, at = _read_number(text, behind_word(text, at, " back "))
+    ahead, at = _read_number(text, behind_word(text, at, " ahead "))
     return ("join", left, right, keys, back, ahead), at
 
 
@@ -278,10 +224,10 @@ STEPS = {
 
 def _read_step(text, at):
     """What stands behind the name of a step, its line's end too."""
-    word, at = _read_one_of(text, at, list(STEPS))
+    word, at = read_one_of(text, at, list(STEPS))
     read = STEPS[word]
     step, at = read(text, at)
-    return step, _behind(text, at, "\n")
+    return step, behind_word(text, at, "\n")
 
 
 def read_query(text):
@@ -291,9 +237,9 @@ def read_query(text):
     name, at = _read_name(text, 0)
     # A step may be called "out" here: only what stands behind the name tells the last line.
     while name != "out" or text[at:at + 1] != " ":
-        step, at = _read_step(text, _behind(text, at, ": "))
+        step, at = _read_step(text, behind_word(text, at, ": "))
         pairs.append((name, step))
         name, at = _read_name(text, at)
     of, at = _read_name(text, at + 1)
-    _need_end(text, at)
+    need_end(text, at)
     return tuple(pairs) + (("out", of),)

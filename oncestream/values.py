@@ -8,9 +8,14 @@ MOST_COLUMNS = 8
 LAST_TIME = 100000000
 
 
+def is_from(value, low):
+    """Whether a value is an integer from low on; True and False are none."""
+    return isinstance(value, int) and not isinstance(value, bool) and value >= low
+
+
 def is_number(value, low, high):
     """Whether a value is an integer from low to high; True and False are none."""
-    return isinstance(value, int) and not isinstance(value, bool) and low <= value <= high
+    return is_from(value, low) and value <= high
 
 
 def is_value(value):
@@ -74,17 +79,28 @@ def _is_sign(value):
 
 
 def _fits(column, value):
-    """Whether anything is a value that may stand in this column."""
-    return is_value(value) and kind_of(value) in ("none", column[1])
+    """Whether a value may stand in this column."""
+    return kind_of(value) in ("none", column[1])
+
+
+def is_bare_row(value):
+    """Whether anything is a row of some columns or other, at whatever time."""
+    if not isinstance(value, tuple) or len(value) != 3:
+        return False
+    time, sign, values = value
+    if not is_from(time, 0) or not _is_sign(sign) or not isinstance(values, tuple):
+        return False
+    return all(is_value(member) for member in values)
 
 
 def is_row(columns, value):
     """Whether anything is a row of these columns."""
-    if not isinstance(value, tuple) or len(value) != 3:
+    if not is_bare_row(value) or value[0] > LAST_TIME or len(value[2]) != len(columns):
         return False
-    time, sign, values = value
-    if not is_number(time, 0, LAST_TIME) or not _is_sign(sign):
-        return False
-    if not isinstance(values, tuple) or len(values) != len(columns):
-        return False
-    return all(_fits(column, member) for column, member in zip(columns, values))
+    return all(_fits(column, member) for column, member in zip(columns, value[2]))
+
+
+def values_of(columns, names, values):
+    """Of the values of a row of the columns those in the columns with these names, in the order of the names."""
+    given = {column[0]: value for column, value in zip(columns, values)}
+    return tuple([given[name] for name in names])

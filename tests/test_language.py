@@ -16,6 +16,7 @@ BUILTINS = set("""len range enumerate zip min max sum abs sorted reversed int st
 METHODS = set("""append clear copy count endswith extend find get index insert isalnum isalpha isdigit islower isspace
     isupper items join keys ljust lower lstrip partition pop remove replace reverse rfind rjust rpartition rsplit rstrip
     setdefault split splitlines startswith strip update upper values zfill bit_length add discard __init__""".split())
+LIBRARY = {"math": {"gcd", "lcm", "isqrt", "comb", "perm", "factorial"}}
 BARRED = set("""register mro elements open input law version_info with_traceback add_note attrgetter breakpoint builtins
     compile copyright credits delattr dir eval exec exit gc globals help id importlib license locals methodcaller os quit
     type vars sys typing enum Generic Protocol ABC namedtuple dataclass""".split())
@@ -93,6 +94,10 @@ class Language(unittest.TestCase):
                 self.assertIsInstance(node, ast.ImportFrom, name)
                 self.assertIn(node, tree.body)
                 self.assertEqual(node.level, 0)
+                if node.module in LIBRARY:
+                    self.assertLessEqual({alias.name for alias in node.names}, LIBRARY[node.module], name)
+                    self.assertEqual([alias.asname for alias in node.names], [None] * len(node.names), name)
+                    continue
                 package, file = node.module.split(".")
                 self.assertEqual(package, "oncestream")
                 for alias in node.names:
@@ -102,7 +107,8 @@ class Language(unittest.TestCase):
             self.assertEqual(kinds, sorted(kinds, reverse=True), f"{name}: imports stand at the top")
 
     def test_no_circles_of_imports(self):
-        ahead = {name[:-3]: [node.module.split(".")[1] for node in imports(tree)] for name, _, tree in FILES}
+        ahead = {name[:-3]: [node.module.split(".")[1] for node in imports(tree) if node.module not in LIBRARY]
+                 for name, _, tree in FILES}
         done = []
         while len(done) < len(ahead):
             free = [name for name in ahead if name not in done and all(other in done for other in ahead[name])]
@@ -206,16 +212,17 @@ class Interface(unittest.TestCase):
                 name, _, arguments = told.rstrip(").").partition("(")
                 if name.startswith("Bad"):
                     continue
-                if name == "END":
+                if name in ("END", "GROUPS"):
                     continue
                 self.assertIsInstance(table[file][name], ast.FunctionDef, told)
                 found = [argument.arg for argument in table[file][name].args.args]
-                self.assertEqual(len(found), len(arguments.split(", ")), told)
-                for one, other in zip(found, arguments.split(", ")):
+                awaited = arguments.split(", ") if arguments else []
+                self.assertEqual(len(found), len(awaited), told)
+                for one, other in zip(found, awaited):
                     # The subset bars this one name; arguments are passed by position.
                     self.assertTrue(one == other or other == "input", told)
                 done += 1
-        self.assertGreaterEqual(done, 60)
+        self.assertGreaterEqual(done, 120)
 
 
 if __name__ == "__main__":

@@ -1,0 +1,63 @@
+"""What all readers of texts share: each reads from a place on, and returns what it has read and the place behind it.
+
+What has been read can always be gone on with: so the first sign that does not fit stands at the place that is told.
+"""
+
+from oncestream.errors import BadText
+
+DIGITS = "0123456789"
+
+
+def _agreed(text, at, word):
+    """How many signs of the word stand at this place."""
+    many = 0
+    while many < len(word) and text[at + many:at + many + 1] == word[many]:
+        many += 1
+    return many
+
+
+def read_one_of(text, at, words):
+    """The one that stands here of these words, of which none is a beginning of another."""
+    many = [_agreed(text, at, word) for word in words]
+    for word, agreed in zip(words, many):
+        if agreed == len(word):
+            return word, at + agreed
+    raise BadText(at + max(many))
+
+
+def behind_word(text, at, word):
+    """The place behind the word that must stand here."""
+    return read_one_of(text, at, [word])[1]
+
+
+def run_end(text, at, signs, most):
+    """The place behind the signs of this sort that stand here, at most so many."""
+    end = at
+    while end < len(text) and end < at + most and text[end] in signs:
+        end += 1
+    return end
+
+
+def read_number(text, at, most):
+    """An integer from 0 on, of at most so many digits."""
+    # A nought ahead of other digits would be needless, so it ends the number.
+    end = run_end(text, at, DIGITS, 1 if text[at:at + 1] == "0" else most)
+    if end == at:
+        raise BadText(at)
+    return int(text[at:end]), end
+
+
+def read_integer(text, at, most):
+    """An integer of at most so many digits, with a - ahead if it is below 0."""
+    if text[at:at + 1] != "-":
+        return read_number(text, at, most)
+    if text[at + 1:at + 2] == "0":
+        raise BadText(at + 1)
+    number, end = read_number(text, at + 1, most)
+    return -number, end
+
+
+def need_end(text, at):
+    """Raises BadText if anything stands here still."""
+    if at < len(text):
+        raise BadText(at)
