@@ -222,7 +222,7 @@ class Interface(unittest.TestCase):
                     # The subset bars this one name; arguments are passed by position.
                     self.assertTrue(one == other or other == "input", told)
                 done += 1
-        self.assertGreaterEqual(done, 120)
+        self.assertGreaterEqual(done, 156)
 
 
 if __name__ == "__main__":

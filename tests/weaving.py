@@ -23,6 +23,14 @@ def a_channel(draw, columns, most, last=None):
     return things
 
 
+def with_barriers(draw, things, numbers):
+    """The things with barriers of these numbers put in anywhere, in order."""
+    found, places = list(things), sorted(draw.randint(0, len(things)) for _ in numbers)
+    for place, n in reversed(list(zip(places, numbers))):
+        found.insert(place, ("barrier", n))
+    return tuple(found)
+
+
 def woven_in(draw, channels):
     """The list of (number, thing) of all channels, woven anyhow."""
     left, found = [list(things) for things in channels], []
