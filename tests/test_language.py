@@ -192,6 +192,72 @@ class Language(unittest.TestCase):
                 if isinstance(node, ast.GeneratorExp):
                     self.assertIn(above[node].func.id, ("list", "tuple", "dict", "sorted", "sum", "min", "max", "any", "all"))
 
+    def test_lambdas(self):
+        """L13: no two lambdas with parameters of the same names on one line; L4: defaults are plain."""
+        for name, _, tree in FILES:
+            seen = set()
+            for node in ast.walk(tree):
+                if isinstance(node, ast.Lambda):
+                    told = (node.lineno, tuple(argument.arg for argument in node.args.args))
+                    self.assertNotIn(told, seen, name)
+                    seen.add(told)
+                if isinstance(node, ast.arguments):
+                    self.assertEqual((node.defaults, node.kw_defaults, node.vararg, node.kwarg), ([], [], None, None), name)
+
+    def test_errors(self):
+        """L19: own errors are caught by name; an error is created where it is raised, from None in a handler."""
+        own = {name for name, node in defined(dict((name, tree) for name, _, tree in FILES)["errors.py"]).items() if isinstance(node, ast.ClassDef)}
+        for where, node in self.nodes(ast.ExceptHandler):
+            self.assertIsInstance(node.type, ast.Name, where)
+            self.assertIn(node.type.id, own | {"KeyError", "ZeroDivisionError"}, where)
+            for inner in ast.walk(node):
+                if isinstance(inner, ast.Raise) and inner.cause is not None:
+                    self.assertTrue(isinstance(inner.cause, ast.Constant) and inner.cause.value is None, where)
+        for where, node in self.nodes(ast.Raise):
+            self.assertTrue(isinstance(node.exc, ast.Call) and node.exc.func.id in own, where)
+
+    def test_numbers_and_strings(self):
+        """L27: exponents are literals, no escapes but these; L7: no f-string in an f-string."""
+        for where, node in self.nodes(ast.BinOp):
+            if isinstance(node.op, ast.Pow):
+                self.assertTrue(isinstance(node.right, ast.Constant) and 0 <= node.right.value <= 64, where)
+        for where, node in self.nodes(ast.JoinedStr):
+            self.assertFalse([inner for inner in ast.walk(node) if isinstance(inner, ast.JoinedStr) and inner is not node], where)
+        for name, text, _ in FILES:
+            self.assertEqual([escape for escape in re.findall(r"\\.", text) if escape[1] not in "nt\\'\""], [], name)
+
+    def test_tables_at_module_level_are_only_read(self):
+        """L15: a list or dict there is indexed, gone over, looked up in, copied; it is not passed on or changed."""
+        for name, _, tree in FILES:
+            tables = {other: node for other, node in defined(tree).items() if isinstance(node, ast.Assign) and isinstance(node.value, (ast.Dict, ast.List))}
+            for table, node in tables.items():
+                members = node.value.values + node.value.keys if isinstance(node.value, ast.Dict) else node.value.elts
+                self.assertFalse([inner for member in members for inner in ast.walk(member) if isinstance(inner, (ast.Dict, ast.List))], name)
+            above = {inner: node for node in ast.walk(tree) for inner in ast.iter_child_nodes(node)}
+            for node in ast.walk(tree):
+                if isinstance(node, ast.Name) and node.id in tables and isinstance(node.ctx, ast.Load):
+                    outer = above[node]
+                    is_read = isinstance(outer, (ast.For, ast.comprehension, ast.Compare)) or isinstance(outer, ast.Subscript) and isinstance(outer.ctx, ast.Load)
+                    is_copied = isinstance(outer, ast.Call) and outer.func.id in ("list", "dict", "len", "sorted")
+                    self.assertTrue(is_read or is_copied or isinstance(outer, ast.Attribute) and outer.attr == "get", f"{name}:{node.lineno}")
+
+    def test_what_a_loop_goes_over_stays(self):
+        """L23: nothing is changed by its name in the loop that goes over it."""
+        changing = {"append", "clear", "extend", "insert", "pop", "remove", "reverse", "setdefault", "update", "add", "discard"}
+        for where, node in self.nodes(ast.For):
+            over = {inner.id for inner in ast.walk(node.iter) if isinstance(inner, ast.Name)}
+            for inner in [inner for row in node.body for inner in ast.walk(row)]:
+                if isinstance(inner, ast.Call) and isinstance(inner.func, ast.Attribute) and inner.func.attr in changing:
+                    self.assertFalse(isinstance(inner.func.value, ast.Name) and inner.func.value.id in over, where)
+                if isinstance(inner, ast.Subscript) and not isinstance(inner.ctx, ast.Load):
+                    self.assertFalse(isinstance(inner.value, ast.Name) and inner.value.id in over, where)
+
+    def test_what_is_imported_is_used(self):
+        for name, _, tree in FILES:
+            used = {node.id for node in ast.walk(tree) if isinstance(node, ast.Name)}
+            private = {found for found in defined(tree) if found.startswith("_")}
+            self.assertEqual(({alias.name for node in imports(tree) for alias in node.names} | private) - used, set(), name)
+
     def test_words_that_are_not_used(self):
         for name, _, tree in FILES:
             for node in ast.walk(tree):
