@@ -12,7 +12,7 @@ from oncestream.values import ranks
 from tests.makers import ANYTHING, a_draw, exchanged, within
 from tests.test_graphs import plain_group
 from tests.untouched import looked_at
-from tests.weaving import a_row, woven_in
+from tests.weaving import a_row, lots_of_groups, woven_in
 
 LEFT = (("who", "text"), ("n", "number"))
 RIGHT = (("n", "number"), ("what", "text"), ("who", "text"))
@@ -415,16 +415,10 @@ class Groups(unittest.TestCase):
             join = a_join(draw)[3]
             yield draw, join, woven(join, fitting(draw, 24))[0]
 
-    def lots_of_groups(self, draw, many):
-        lots = [[] for _ in range(many)]
-        for g in ALL:
-            draw.choice(lots).append(g)
-        return [tuple(lot) for lot in lots]
-
     def test_split_and_joined(self):
         for draw, join, state in self.some_states(97):
             for many in (1, 2, 4):
-                parts = [looked_at(self, split, join, state, groups) for groups in self.lots_of_groups(draw, many)]
+                parts = [looked_at(self, split, join, state, groups) for groups in lots_of_groups(draw, many)]
                 draw.shuffle(parts)
                 self.assertEqual(looked_at(self, joined, join, parts), state)
                 self.assertEqual(joined(join, tuple(parts)), state)
@@ -458,7 +452,7 @@ class Groups(unittest.TestCase):
 
     def test_parts_go_on_as_the_whole(self):
         for draw, join, state in self.some_states(99):
-            lots = self.lots_of_groups(draw, 3)
+            lots = lots_of_groups(draw, 3)
             parts, mark = [split(join, state, groups) for groups in lots], state[0]
             for _ in range(14):
                 if draw.random() < 0.25:

@@ -15,7 +15,7 @@ from tests.plainly import session_of, windows_for
 from tests.test_graphs import plain_group
 from tests.test_sums import plain_tally, plain_tell
 from tests.untouched import looked_at
-from tests.weaving import a_channel, a_row, beginnings, woven_in
+from tests.weaving import a_channel, a_row, beginnings, lots_of_groups, woven_in
 
 COLUMNS = (("k", "text"), ("n", "number"))
 K, N, ONE = ("column", "k"), ("column", "n"), ("value", 1)
@@ -411,16 +411,10 @@ class Shared(unittest.TestCase):
             state = filled(step, [a_row(draw, COLUMNS, 0, 30) for _ in range(draw.randint(0, 12))])
             yield draw, step, marked(step, state, draw.choice((1, 5, 12)))[0]
 
-    def lots_of_groups(self, draw, many):
-        lots = [[] for _ in range(many)]
-        for g in ALL:
-            draw.choice(lots).append(g)
-        return [tuple(lot) for lot in lots]
-
     def test_split_and_joined(self):
         for draw, step, state in self.some_states(63):
             for many in (1, 2, 3, 5):
-                parts = [looked_at(self, split, state, groups) for groups in self.lots_of_groups(draw, many)]
+                parts = [looked_at(self, split, state, groups) for groups in lots_of_groups(draw, many)]
                 draw.shuffle(parts)
                 self.assertEqual(looked_at(self, joined, step, parts), state)
                 self.assertEqual(joined(step, tuple(parts)), state)
@@ -483,7 +477,7 @@ class Shared(unittest.TestCase):
 
     def test_split_states_go_on_as_the_whole(self):
         for draw, step, state in self.some_states(68):
-            lots = self.lots_of_groups(draw, 3)
+            lots = lots_of_groups(draw, 3)
             parts, mark = [split(state, groups) for groups in lots], state[0]
             for _ in range(12):
                 if draw.random() < 0.3:

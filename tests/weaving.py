@@ -43,3 +43,11 @@ def woven_in(draw, channels):
 def beginnings(draw, channels):
     """A beginning of each channel."""
     return [things[:draw.randint(0, len(things))] for things in channels]
+
+
+def lots_of_groups(draw, many):
+    """So many ascending tuples that share nothing and are all groups together."""
+    lots = [[] for _ in range(many)]
+    for g in range(16):
+        draw.choice(lots).append(g)
+    return [tuple(lot) for lot in lots]
