@@ -8,12 +8,17 @@ def row_rank(row):
     return (row[0], row[1], ranks(row[2]))
 
 
-def bag_of(rows):
-    """The bag of a list of rows."""
+def counted(rows):
+    """How often each of a list of rows stands there."""
     bag = {}
     for row in rows:
         bag[row] = bag.get(row, 0) + 1
     return bag
+
+
+def bag_of(rows):
+    """The bag of a list of rows."""
+    return counted(rows)
 
 
 def rows_of(bag):

@@ -58,3 +58,9 @@ def finish_rows(lots, keys, window, sums, columns, mark):
 def finish_operator(keys):
     """What a task of a finish with so many keys does: the functions fresh, put and marked."""
     return (finish_fresh, lambda state, i, row: (finish_put(state, row, keys), ()), finish_marked)
+
+
+def finish_dealt(states, lots, keys):
+    """What each of a list of lots of groups has of all states of the tasks of a finish with so many keys."""
+    whole = finish_joined(states)
+    return [finish_split(whole, groups, keys) for groups in lots]

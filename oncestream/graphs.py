@@ -1,6 +1,6 @@
 """Graphs: by how many tasks each step is done, the channels between them, and which task gets a row."""
 
-from oncestream.queries import all_columns, keys_of, made_of, step_of, steps_ahead
+from oncestream.queries import all_columns, keys_of, made_of, out_of, step_of, steps_ahead, steps_behind
 from oncestream.values import values_of
 
 GROUPS = 16
@@ -14,20 +14,20 @@ def graph(plan, workers):
     return (plan, tuple(sorted([(name, workers[name]) for name in workers])))
 
 
-def _tasks_at(graph, name):
+def tasks_at(graph, name):
     """The tasks of the step with this name."""
     return [(name, number) for number in range(dict(graph[1])[name])]
 
 
 def tasks_of(graph):
     """All tasks, in the order of the steps."""
-    return [task for name, _ in graph[0] for task in _tasks_at(graph, name)]
+    return [task for name, _ in graph[0] for task in tasks_at(graph, name)]
 
 
 def inputs_of(graph, task):
     """The channels that lead to a task."""
     ahead = steps_ahead(graph[0], task[0])
-    return [(sender, side, task) for side, name in enumerate(ahead) for sender in _tasks_at(graph, name)]
+    return [(sender, side, task) for side, name in enumerate(ahead) for sender in tasks_at(graph, name)]
 
 
 def channels_of(graph):
@@ -35,9 +35,17 @@ def channels_of(graph):
     return [channel for task in tasks_of(graph) for channel in inputs_of(graph, task)]
 
 
+def readers_of(plan, name):
+    """The pairs (name, sides) of all steps made of a step, in order, "out" last: on which sides each names it."""
+    readers = steps_behind(plan, name) + (("out",) if out_of(plan) == name else ())
+    ahead = [(other, steps_ahead(plan, other)) for other in readers]
+    return [(other, tuple([side for side, of in enumerate(names) if of == name])) for other, names in ahead]
+
+
 def outputs_of(graph, task):
     """The channels that leave a task."""
-    return [channel for channel in channels_of(graph) if channel[0] == task]
+    readers = readers_of(graph[0], task[0])
+    return [(task, side, other) for name, sides in readers for other in tasks_at(graph, name) for side in sides]
 
 
 def _number_of(value):

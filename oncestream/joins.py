@@ -164,3 +164,9 @@ def join_operator(join, sides):
         return after, tuple(rows)
 
     return (fresh, put_in_order, lambda state, mark: (marked(join, state, mark)[0], ()))
+
+
+def join_dealt(join, states, lots):
+    """What each of a list of lots of groups has of all states of the tasks of a join."""
+    whole = joined(join, states)
+    return [split(join, whole, groups) for groups in lots]

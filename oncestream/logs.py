@@ -2,7 +2,7 @@
 
 from oncestream.errors import BadDisk, BadText
 from oncestream.marks import is_mark
-from oncestream.seals import read_records, read_word, records, word_text
+from oncestream.seals import read_records, read_word, records, whole_seals, word_text
 from oncestream.values import LAST_TIME, is_bare_row
 
 
@@ -39,7 +39,7 @@ def entry_at(log, place):
 
 def mended(log):
     """The log without its torn end."""
-    return log[:len(log) - len(read_records(log)[1])]
+    return whole_seals(log)
 
 
 def torn(log, entries, keep):

@@ -10,7 +10,7 @@ from oncestream.queries import all_columns, made_of, out_of, sources_of, step_of
 from oncestream.values import is_row, rank, values_of
 
 
-def _is_entry(columns, value):
+def is_entry_of(columns, value):
     """Whether anything is an entry of a source with these columns."""
     if not isinstance(value, tuple) or len(value) == 0:
         return False
@@ -36,7 +36,7 @@ def input_fault(query, value):
         columns = step_of(query, name)[1]
         for number, part in enumerate(value[name]):
             for place, entry in enumerate(part):
-                if not _is_entry(columns, entry):
+                if not is_entry_of(columns, entry):
                     return ("entry", name, number, place)
     return None
 

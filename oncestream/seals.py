@@ -127,3 +127,8 @@ def read_records(text):
         texts.append(word)
         found = _sealed_at(text, at)
     return tuple(texts), text[at:]
+
+
+def whole_seals(text):
+    """A text without what is left behind the seals at its beginning."""
+    return text[:len(text) - len(read_records(text)[1])]

@@ -18,7 +18,7 @@ WORDS = {
 }
 
 
-def _value_text(value):
+def value_text(value):
     if value is None:
         return "()"
     return f'"{value}"' if isinstance(value, str) else str(value)
@@ -29,7 +29,7 @@ def expression_text(e):
     if e[0] == "column":
         return e[1]
     if e[0] == "value":
-        return _value_text(e[1])
+        return value_text(e[1])
     texts = [expression_text(member) for member in e[1:]]
     if e[0] == "not":
         return "!" + texts[0]
@@ -38,12 +38,12 @@ def expression_text(e):
     return f"({texts[0]} {BETWEEN[e[0]]} {texts[1]})"
 
 
-def _list_text(texts):
+def list_text(texts):
     """The members of a list, or what stands in the place of one without members."""
     return ", ".join(texts) if len(texts) > 0 else "-"
 
 
-def _words_text(words):
+def words_text(words):
     """Words and numbers with blanks between them."""
     return " ".join([str(word) for word in words])
 
@@ -52,18 +52,18 @@ def _step_text(step):
     """What stands behind the name of a step."""
     word = step[0]
     if word == "source":
-        return "source " + _list_text([_words_text(column) for column in step[1]])
+        return "source " + list_text([words_text(column) for column in step[1]])
     if word == "keep":
         return f"keep {step[1]} where {expression_text(step[2])}"
     if word == "make":
         told = [f"{name} = {expression_text(e)}" for name, e in step[2]]
-        return f"make {step[1]} with {_list_text(told)}"
+        return f"make {step[1]} with {list_text(told)}"
     if word == "both":
-        return _words_text(step)
+        return words_text(step)
     if word == "sum":
         told = [f"{name} = {how} {expression_text(e)}" for name, how, e in step[4]]
-        return f"sum {step[1]} by {_list_text(step[2])} in {_words_text(step[3])} with {_list_text(told)}"
-    return f"join {step[1]} {step[2]} by {_list_text(step[3])} back {step[4]} ahead {step[5]}"
+        return f"sum {step[1]} by {list_text(step[2])} in {words_text(step[3])} with {list_text(told)}"
+    return f"join {step[1]} {step[2]} by {list_text(step[3])} back {step[4]} ahead {step[5]}"
 
 
 def query_text(query):
@@ -72,7 +72,7 @@ def query_text(query):
     return "\n".join(lines + ["out " + query[-1][1]])
 
 
-def _read_name(text, at):
+def read_name(text, at):
     end = run_end(text, at, LETTERS, MOST_LETTERS)
     if end == at:
         raise BadText(at)
@@ -84,7 +84,7 @@ def _read_number(text, at):
     return read_number(text, at, MOST_DIGITS)
 
 
-def _read_quoted(text, at):
+def read_quoted(text, at):
     """The text of a value, of which the first quote has been read."""
     end = run_end(text, at, SIGNS, MOST_SIGNS)
     return text[at:end], behind_word(text, end, '"')
@@ -112,32 +112,30 @@ def _read_part(text, at):
         part, at = _read_part(text, at + 1)
         return ("not", part), at
     if first == '"':
-        value, at = _read_quoted(text, at + 1)
+        value, at = read_quoted(text, at + 1)
     elif first == "-" or first.isdigit():
         value, at = read_integer(text, at, MOST_DIGITS)
     else:
-        name, at = _read_name(text, at)
+        name, at = read_name(text, at)
         return ("column", name), at
     return ("value", value), at
 
 
-def _need_text(text):
+def need_text(text):
     if not isinstance(text, str):
         raise BadText(0)
 
 
 def read_expression(text):
     """The expression that a text tells; raises BadText if it tells none."""
-    _need_text(text)
+    need_text(text)
     e, at = _read_part(text, 0)
     need_end(text, at)
     return e
 
 
-def _read_list(text, at, read_one):
-    """A list of what read_one reads, () for a - in its place."""
-    if text[at:at + 1] == "-":
-        return (), at + 1
+def read_members(text, at, read_one):
+    """The members of a list, at least one, of what read_one reads."""
     one, at = read_one(text, at)
     members = [one]
     while text[at:at + 1] == ",":
@@ -146,22 +144,27 @@ def _read_list(text, at, read_one):
     return tuple(members), at
 
 
+def read_list(text, at, read_one):
+    """A list of what read_one reads, () for a - in its place."""
+    return ((), at + 1) if text[at:at + 1] == "-" else read_members(text, at, read_one)
+
+
 def _read_column(text, at):
-    name, at = _read_name(text, at)
+    name, at = read_name(text, at)
     kind, at = read_one_of(text, behind_word(text, at, " "), ["number", "text"])
     return (name, kind), at
 
 
 def _read_made(text, at):
     """A column of a make."""
-    name, at = _read_name(text, at)
+    name, at = read_name(text, at)
     e, at = _read_part(text, behind_word(text, at, " = "))
     return (name, e), at
 
 
 def _read_summed(text, at):
     """A column of a sum."""
-    name, at = _read_name(text, at)
+    name, at = read_name(text, at)
     how, at = read_one_of(text, behind_word(text, at, " = "), ["count ", "sum ", "least ", "greatest "])
     e, at = _read_part(text, at)
     return (name, how.strip(), e), at
@@ -177,40 +180,40 @@ def _read_window(text, at):
 
 
 def _read_source(text, at):
-    columns, at = _read_list(text, at, _read_column)
+    columns, at = read_list(text, at, _read_column)
     return ("source", columns), at
 
 
 def _read_keep(text, at):
-    of, at = _read_name(text, at)
+    of, at = read_name(text, at)
     e, at = _read_part(text, behind_word(text, at, " where "))
     return ("keep", of, e), at
 
 
 def _read_make(text, at):
-    of, at = _read_name(text, at)
-    told, at = _read_list(text, behind_word(text, at, " with "), _read_made)
+    of, at = read_name(text, at)
+    told, at = read_list(text, behind_word(text, at, " with "), _read_made)
     return ("make", of, told), at
 
 
 def _read_both(text, at):
-    left, at = _read_name(text, at)
-    right, at = _read_name(text, behind_word(text, at, " "))
+    left, at = read_name(text, at)
+    right, at = read_name(text, behind_word(text, at, " "))
     return ("both", left, right), at
 
 
 def _read_sum(text, at):
-    of, at = _read_name(text, at)
-    keys, at = _read_list(text, behind_word(text, at, " by "), _read_name)
+    of, at = read_name(text, at)
+    keys, at = read_list(text, behind_word(text, at, " by "), read_name)
     window, at = _read_window(text, behind_word(text, at, " in "))
-    told, at = _read_list(text, behind_word(text, at, " with "), _read_summed)
+    told, at = read_list(text, behind_word(text, at, " with "), _read_summed)
     return ("sum", of, keys, window, told), at
 
 
 def _read_join(text, at):
-    left, at = _read_name(text, at)
-    right, at = _read_name(text, behind_word(text, at, " "))
-    keys, at = _read_list(text, behind_word(text, at, " by "), _read_name)
+    left, at = read_name(text, at)
+    right, at = read_name(text, behind_word(text, at, " "))
+    keys, at = read_list(text, behind_word(text, at, " by "), read_name)
     back, at = _read_number(text, behind_word(text, at, " back "))
     ahead, at = _read_number(text, behind_word(text, at, " ahead "))
     return ("join", left, right, keys, back, ahead), at
@@ -232,14 +235,14 @@ def _read_step(text, at):
 
 def read_query(text):
     """The query that a text tells; raises BadText if it tells none."""
-    _need_text(text)
+    need_text(text)
     pairs = []
-    name, at = _read_name(text, 0)
+    name, at = read_name(text, 0)
     # A step may be called "out" here: only what stands behind the name tells the last line.
     while name != "out" or text[at:at + 1] != " ":
         step, at = _read_step(text, behind_word(text, at, ": "))
         pairs.append((name, step))
-        name, at = _read_name(text, at)
-    of, at = _read_name(text, at + 1)
+        name, at = read_name(text, at)
+    of, at = read_name(text, at + 1)
     need_end(text, at)
     return tuple(pairs) + (("out", of),)

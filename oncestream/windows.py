@@ -178,3 +178,9 @@ def sum_operator(columns, step):
         lambda state, i, row: put(columns, step, state, row),
         lambda state, mark: marked(step, state, mark),
     )
+
+
+def sum_dealt(step, states, lots):
+    """What each of a list of lots of groups has of all states of the tasks of a step."""
+    whole = joined(step, states)
+    return [split(whole, groups) for groups in lots]

@@ -20,6 +20,8 @@ LIBRARY = {"math": {"gcd", "lcm", "isqrt", "comb", "perm", "factorial"}}
 BARRED = set("""register mro elements open input law version_info with_traceback add_note attrgetter breakpoint builtins
     compile copyright credits delattr dir eval exec exit gc globals help id importlib license locals methodcaller os quit
     type vars sys typing enum Generic Protocol ABC namedtuple dataclass""".split())
+BEGINNINGS = (r"_wall|_pe_|_dcw_|_enum_|_cm_|_twin_re_|_lay_|_law_|_stub_|_sre|_WallAttr|"
+              r"_(cold|tuplegetter|outside|record|written_out|member_names)[0-9_]*")
 STATEMENTS = (ast.Assign, ast.AugAssign, ast.AnnAssign, ast.If, ast.While, ast.For, ast.Return, ast.Break, ast.Continue,
               ast.Pass, ast.Raise, ast.Expr, ast.Try, ast.FunctionDef, ast.ClassDef, ast.ImportFrom, ast.Delete, ast.Assert,
               ast.Nonlocal, ast.Match, ast.With)
@@ -171,6 +173,7 @@ class Language(unittest.TestCase):
                 self.assertTrue(re.fullmatch(r"_?[A-Za-z][A-Za-z0-9_]*|_|__init__", found), f"{name}: {found}")
                 self.assertNotIn(found, vars(builtins), name)
                 self.assertNotIn(found, BARRED, name)
+                self.assertIsNone(re.match(BEGINNINGS, found), f"{name}: {found}")
                 self.assertNotIn(found, imported, name)
             locals_of = [found for node in ast.walk(tree) if isinstance(node, ast.FunctionDef)
                          for inner in node.body for found in bound_names(inner)]
@@ -208,8 +211,9 @@ class Language(unittest.TestCase):
         """L19: own errors are caught by name; an error is created where it is raised, from None in a handler."""
         own = {name for name, node in defined(dict((name, tree) for name, _, tree in FILES)["errors.py"]).items() if isinstance(node, ast.ClassDef)}
         for where, node in self.nodes(ast.ExceptHandler):
-            self.assertIsInstance(node.type, ast.Name, where)
-            self.assertIn(node.type.id, own | {"KeyError", "ZeroDivisionError"}, where)
+            for caught in node.type.elts if isinstance(node.type, ast.Tuple) else [node.type]:
+                self.assertIsInstance(caught, ast.Name, where)
+                self.assertIn(caught.id, own | {"KeyError", "ZeroDivisionError"}, where)
             for inner in ast.walk(node):
                 if isinstance(inner, ast.Raise) and inner.cause is not None:
                     self.assertTrue(isinstance(inner.cause, ast.Constant) and inner.cause.value is None, where)
@@ -266,29 +270,45 @@ class Language(unittest.TestCase):
 
 
 class Interface(unittest.TestCase):
-    def test_each_function_is_defined_where_the_interface_lists_it(self):
-        table, done = {name: defined(tree) for name, _, tree in FILES}, 0
+    def told(self):
+        """The pairs (file, line) of what the interface lists for each file."""
         with open(INTERFACE, encoding="utf-8") as lines:
             lines = [line.strip() for line in lines]
-        for at, line in enumerate(lines):
-            if not line.startswith("### oncestream/") or line.endswith("errors.py"):
-                continue
-            file = line[len("### oncestream/"):]
-            for told in re.split(r"[;.] ", lines[at + 1]):
-                name, _, arguments = told.rstrip(").").partition("(")
-                if name.startswith("Bad"):
-                    continue
-                if name in ("END", "GROUPS"):
-                    continue
-                self.assertIsInstance(table[file][name], ast.FunctionDef, told)
-                found = [argument.arg for argument in table[file][name].args.args]
-                awaited = arguments.split(", ") if arguments else []
-                self.assertEqual(len(found), len(awaited), told)
-                for one, other in zip(found, awaited):
-                    # The subset bars this one name; arguments are passed by position.
-                    self.assertTrue(one == other or other == "input", told)
-                done += 1
-        self.assertGreaterEqual(done, 156)
+        return [(line[len("### oncestream/"):], lines[at + 1]) for at, line in enumerate(lines)
+                if line.startswith("### oncestream/") and not line.endswith("errors.py")]
+
+    def check(self, names, told, first):
+        """That the names hold a function with these arguments behind the first ones."""
+        name, _, arguments = told.rstrip(").").partition("(")
+        if name.startswith("Bad") or name in ("END", "GROUPS", "Blocked", "NothingDone"):
+            return 0
+        self.assertIsInstance(names[name], ast.FunctionDef, told)
+        found = [argument.arg for argument in names[name].args.args]
+        awaited = first + (arguments.split(", ") if arguments else [])
+        self.assertEqual(len(found), len(awaited), told)
+        for one, other in zip(found, awaited):
+            # The subset bars this one name; arguments are passed by position.
+            self.assertTrue(one == other or other == "input", told)
+        return 1
+
+    def test_each_function_is_defined_where_the_interface_lists_it(self):
+        table, done = {name: defined(tree) for name, _, tree in FILES}, 0
+        for file, line in self.told():
+            if not line.startswith("class "):
+                done += sum(self.check(table[file], told, []) for told in re.split(r"[;.] ", line))
+        self.assertEqual(done, 229)
+
+    def test_each_method_is_defined_in_its_class(self):
+        table, done = {name: defined(tree) for name, _, tree in FILES}, 0
+        for file, line in self.told():
+            if line.startswith("class "):
+                begun, methods = line[len("class "):].split(": ")
+                name, _, arguments = begun.rstrip(")").partition("(")
+                self.assertIsInstance(table[file][name], ast.ClassDef)
+                names = {node.name: node for node in table[file][name].body if isinstance(node, ast.FunctionDef)}
+                done += self.check(names, f"__init__({arguments})", ["self"])
+                done += sum(self.check(names, told, ["self"]) for told in re.split(r"[;.] ", methods))
+        self.assertEqual(done, 17)
 
 
 if __name__ == "__main__":
