@@ -39,3 +39,14 @@ def looked_at(test, function, *arguments):
     test.assertEqual(repr(function(*arguments)), repr(told), function.__name__)
     test.assertEqual(repr(arguments), repr(before), function.__name__)
     return told
+
+
+def left_alone(test, function, *arguments):
+    """What a function returns that may share with its arguments: these stay as they were, and the answer is the same."""
+    before = copy.deepcopy(arguments)
+    first = function(*arguments)
+    told = copy.deepcopy(first)
+    test.assertEqual(repr(function(*arguments)), repr(told), function.__name__)
+    test.assertEqual(repr(arguments), repr(before), function.__name__)
+    test.assertEqual(repr(first), repr(told), function.__name__)
+    return first
