@@ -42,7 +42,22 @@ def the_rules():
                      ("sum ", name, " by ", keys, " in ", "window", " with ", summed),
                      ("join ", name, " ", name, " by ", keys, " back ", "number", " ahead ", "number")]
     rules["query"] = [("out ", name), (name, ": ", "step", "\n", "query")]
+    add_scripts(rules, name, signs)
     return rules
+
+
+def add_scripts(rules, name, signs):
+    """Rules for rows, events and scripts; numbers have at most nine digits here."""
+    rules["value"] = [("number",), ("-", "above"), ('"', signs), ('"', '"'), ("()",)]
+    rules["row"] = [("number", " ", frozenset("+-"), " ", listed(rules, "values", ("value",)))]
+    rules["entry"] = [("row ", "row"), ("mark ", "number")]
+    workers = listed(rules, "workers", (name, " ", "number"))
+    rules["inner"] = [("feed ", name, " ", "number", " ", "entry"), ("read ", "number"), ("move ", "number"), ("begin",),
+                      ("hear ", "number"), ("fall",), ("workers ", workers)]
+    rules["event"] = [("inner",), ("again",), ("lose ", "number"), ("double ", "number"), ("stop",),
+                      ("torn ", "number", " ", "inner")]
+    rules["lines"] = [("event",), ("event", "\n", "lines")]
+    rules["script"] = [(), ("lines",)]
 
 
 def by_signs(rules):
@@ -64,7 +79,10 @@ def closed(items, sets):
     here, waiting, done = len(sets), list(items), set(items)
     while waiting:
         name, symbols, at, begun = waiting.pop()
-        if at == len(symbols):
+        if at == len(symbols) and begun == here:
+            # Only what one begins with can be empty here: nothing waits for it.
+            more = []
+        elif at == len(symbols):
             more = [(other, inner, place + 1, start) for other, inner, place, start in sets[begun]
                     if place < len(inner) and inner[place] == name]
         elif isinstance(symbols[at], str):

@@ -1,9 +1,9 @@
 import unittest
 
-from oncestream.errors import BadText
 from oncestream.queries import columns_of, judge_query
 from oncestream.texts import expression_text, query_text, read_expression, read_query
 from tests import earley
+from tests.around import Around, place
 from tests.makers import ANYTHING, COLUMNS, a_draw, a_query, an_expression, within
 
 A, B, ONE = ("column", "a"), ("column", "b"), ("value", 1)
@@ -89,16 +89,7 @@ class Writing(unittest.TestCase):
         self.assertEqual(expression_text(read_expression(deepest)), deepest)
 
 
-def place(read, text):
-    """The place that is told of a text that can't be read, None of one that can."""
-    try:
-        read(text)
-    except BadText as error:
-        return error.place
-    return None
-
-
-class Places(unittest.TestCase):
+class Places(Around, unittest.TestCase):
     def test_what_is_no_text(self):
         for value in ANYTHING + (within(30), b"a"):
             if not isinstance(value, str):
@@ -135,30 +126,13 @@ class Places(unittest.TestCase):
         ):
             self.assertEqual(place(read_query, text), awaited, text)
 
-    def check(self, start, read, write, sets, text):
-        awaited = earley.place_of(start, sets, text)
-        self.assertEqual(place(read, text), awaited, text)
-        if awaited is None:
-            self.assertEqual(write(read(text)), text)
-
-    def check_around(self, start, read, write, text):
-        """Each beginning of a text, and the text with a sign left out, put in and exchanged at each place."""
-        sets = earley.sets_of(start, text)
-        for at in range(len(text) + 1):
-            ahead = sets[:at + 1]
-            self.check(start, read, write, ahead, text[:at])
-            self.check(start, read, write, ahead, text[:at] + text[at + 1:])
-            for sign in SOME:
-                self.check(start, read, write, ahead, text[:at] + sign + text[at:])
-                self.check(start, read, write, ahead, text[:at] + sign + text[at + 1:])
-
     def test_around_each_expression(self):
         for _, text in EXPRESSIONS:
-            self.check_around("part", read_expression, expression_text, text)
+            self.check_around("part", read_expression, expression_text, text, SOME)
 
     def test_around_each_query(self):
         for _, text in QUERIES:
-            self.check_around("query", read_query, query_text, text)
+            self.check_around("query", read_query, query_text, text, SOME)
 
     def test_two_texts_one_behind_another(self):
         texts = [text for _, text in QUERIES]
