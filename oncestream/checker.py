@@ -14,17 +14,13 @@ def judge_outside(query, fed, places, bag):
     return None if found is None else ("row",) + found
 
 
-def _is_part(value):
-    """Whether anything can tell a part: a pair of a text and an integer."""
-    return isinstance(value, tuple) and len(value) == 2 and isinstance(value[0], str) and is_from(value[1], 0)
-
-
 def _is_places(fed, value):
     """Whether anything is places of the input."""
     ends = places_of(fed)
-    if not isinstance(value, dict) or len(value) != len(ends) or not all(_is_part(part) for part in value):
+    if not isinstance(value, dict) or len(value) != len(ends):
         return False
-    return all(part in ends and is_number(value[part], 0, ends[part]) for part in value)
+    # True and False, which are equal to 1 and 0, are no numbers of parts.
+    return all(part in ends and is_from(part[1], 0) and is_number(value[part], 0, ends[part]) for part in value)
 
 
 def _is_bag(value):

@@ -56,8 +56,6 @@ def fresh_kept(query, workers, parts):
         if name in sources_of(query):
             numbers = dealt(parts[name], dict(workers)[name])[number]
             found[task] = _with_marks([tuple([(part, 0, 0) for part in numbers])])[0]
-        elif name == "out":
-            found[task] = ((), 0)
         else:
             fresh = operator_of(now, task)[0]
             found[task] = (fresh(), 0)

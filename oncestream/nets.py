@@ -105,8 +105,7 @@ def _take_mark(net, channel, m):
     net = _with_fields(net, task, {"marks": marks})
     if mark is None:
         return net
-    if task[0] == "out":
-        return _with_fields(net, task, {"mark": mark})
+    # A sink is marked, too: that leaves it as it is, and it tells nothing, as nothing is behind it.
     marked = operator_of(net["graph"], task)[2]
     state, rows = marked(fields["state"], mark)
     return tell(_with_fields(net, task, {"state": state}), task, rows, mark, None)

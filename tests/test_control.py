@@ -69,7 +69,7 @@ class Records(unittest.TestCase):
     WRONG = (
         None, True, 5, "epoch", (), ("epoch",), ("epoch", 1), ("epoch", 0, ()), ("epoch", -1, ()), ("epoch", True, ()), ("epoch", None, ()), ("epoch", "1", ()), ("epoch", 1, (), ()),
         ("epoch", 1, 1, ()), ("epoch", 1, None), ("epoch", 1, "a"), ("epoch", 1, 5), ("epoch", 1, (("a", 0),)), ("epoch", 1, (("a", 5),)), ("epoch", 1, (("a", True),)), ("epoch", 1, (("a", None),)),
-        ("epoch", 1, (("a",),)), ("epoch", 1, (("a", 1, 1),)), ("epoch", 1, ("a", 1)), ("epoch", 1, (("", 1),)), ("epoch", 1, (("A", 1),)), ("epoch", 1, (("abcdefghi", 1),)), ("epoch", 1, ((1, "a"),)),
+        ("epoch", 1, (("a",),)), ("epoch", 1, (("a", 1, 1),)), ("epoch", 1, ("a", 1)), ("epoch", 1, (5,)), ("epoch", 1, (None,)), ("epoch", 1, (("", 1),)), ("epoch", 1, (("A", 1),)), ("epoch", 1, (("abcdefghi", 1),)), ("epoch", 1, ((1, "a"),)),
         ("epoch", 1, (("b", 1), ("a", 1))), ("epoch", 1, (("a", 1), ("a", 1))), ("epoch", 1, (("a", 1), ("a", 2))), ("epochs", 1, ()), (None, 1, ()),
         ("complete", 1, ()), ("complete", 0, 1, ()), ("complete", 1, 0, ()), ("complete", 1, True, ()), ("complete", True, 1, ()), ("complete", 1, 1), ("complete", 1, 1, (("a", 0),)),
         ("complete", 1, 1, 1, ()), ("complete", 1, 1, (("b", 1), ("a", 1))), ("complete", 1, "1", ()), (("epoch", 1, ()),),
@@ -108,6 +108,7 @@ class Records(unittest.TestCase):
             for keep in list(range(len(text) + 3)) + [10 ** 6]:
                 self.assertEqual(torn(disk + behind, more, keep), disk + text[:keep])
             self.assertEqual(torn(disk + behind, [], 7), disk)
+            self.assertEqual(torn(disk + behind, tuple(more), 5), disk + text[:5])
         self.assertEqual(looked_at(self, torn, disk, more, 9), disk + text[:9])
         self.assertEqual((written("", []), written("", more)), ("", text))
 
@@ -263,7 +264,7 @@ class Played(unittest.TestCase):
         control, told, letters = first(QUERY, WORKERS)
         disk = disk_of(told)
         self.assertEqual(looked_at(self, played, QUERY, WORKERS, []), (control, disk, letters))
-        for happening, triple in ((("begin",), begin(control)), (("hear", ("dropped", 1)), hear(control, ("dropped", 1))), (("hear", None), hear(control, None)), (("again",), (control, [], letters)),
+        for happening, triple in ((("begin",), begin(control)), (("hear", ("dropped", 1)), hear(control, ("dropped", 1))), (("hear", None), hear(control, None)), (("hear", "begin"), hear(control, "begin")), (("again",), (control, [], letters)),
                                   (("renew", OTHERS), renewed(control, OTHERS)), (("stop",), back(QUERY, WORKERS, disk))):
             awaited = (triple[0], written(disk, triple[1]), letters + triple[2])
             self.assertEqual(looked_at(self, played, QUERY, WORKERS, [happening]), awaited)

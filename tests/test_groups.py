@@ -25,6 +25,7 @@ t: sum b by k in even 10 with c = sum n, l = least n
 j: join s z by k back 5 ahead 5
 out t""")
 PARTED = planned(read_query("s: source k text\nt: sum s by k in even 10 with c = count 1\nout t"))[0]
+WIDER = planned(read_query("s: source k text, n number, m number\nt: sum s by k, n, m in even 10 with c = count 1\nout t"))[0]
 
 
 def workers_of(plan, *many):
@@ -239,7 +240,7 @@ class Moved(unittest.TestCase):
     def test_any_states(self):
         """States of which no rows tell: keys with more than one task, parts of any numbers and marks."""
         draw = a_draw(545)
-        for plan in (QUERY, PARTED):
+        for plan in (QUERY, PARTED, WIDER):
             for _ in range(60):
                 old, new, mark = some_workers(draw, plan), some_workers(draw, plan), draw.choice((0, 7, 50))
                 kept, parts = {}, {name: list(range(6)) for name in sources_of(plan)}
@@ -249,7 +250,9 @@ class Moved(unittest.TestCase):
 
     def any_state(self, draw, plan, name, number, mark, parts):
         word = "out" if name == "out" else step_of(plan, name)[0]
-        keys = sorted(draw.sample(("", "a", "b", "x", "y"), draw.randint(0, 3)))
+        keys = [(key,) for key in sorted(draw.sample(("", "a", "b", "x", "y"), draw.randint(0, 3)))]
+        if plan == WIDER:
+            keys = [key + (draw.randint(0, 9), None) for key in keys]
         if word == "source":
             mine = sorted(draw.sample(parts[name], min(len(parts[name]), draw.randint(0, 3))))
             parts[name] = [part for part in parts[name] if part not in mine]
@@ -258,11 +261,11 @@ class Moved(unittest.TestCase):
             def lot():
                 tallies = (draw.randint(-3, 3),) if word == "gather" else (draw.randint(-3, 3), draw.choice(((), ((2, 1),), ((2, -1), (5, 2)))))
                 return (draw.randint(1, 4), tallies)
-            return (mark, tuple(((key,), tuple((slot, lot()) for slot in sorted(draw.sample((50, 60, 90), draw.randint(1, 2))))) for key in keys))
+            return (mark, tuple((key, tuple((slot, lot()) for slot in sorted(draw.sample((50, 60, 90), draw.randint(1, 2))))) for key in keys))
         if word == "finish":
-            return tuple(((key, 10 * number, 10 * number + 100), (draw.randint(-2, 2),)) for key in keys)
+            return tuple((key + (10 * number, 10 * number + 100), (draw.randint(-2, 2),)) for key in keys)
         if word == "join":
-            sides = [tuple(((draw.randint(60, 62), 1, (key,) + rest), draw.randint(1, 3)) for key in keys) for rest in ((5,), ())]
+            sides = [tuple(((draw.randint(60, 62), 1, key + rest), draw.randint(1, 3)) for key in keys) for rest in ((5,), ())]
             return (mark,) + tuple(sides)
         return ()
 

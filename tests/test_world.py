@@ -346,6 +346,22 @@ class Letters(unittest.TestCase):
             self.assertEqual(late.twin().do(("hear", at)).world, {**late.world, "air": air})
             late.do(("double", at)).hear_all("commit", "done").do(("begin",))
 
+    def test_begin_of_a_number_long_complete(self):
+        """It stands no more on the shelf, but it is complete: so its tasks have told it."""
+        both = Both(self).do(*FED).begun().do(("double", 0)).do(("hear", 0)).idle()
+        late = ("begin", 1, 1, S)
+
+        def hear_but_late():
+            while [letter for letter in both.world["air"] if letter != late]:
+                both.do(("hear", [letter != late for letter in both.world["air"]].index(True))).idle()
+
+        hear_but_late()
+        both.do(("read", 0)).idle().do(("begin",))
+        hear_but_late()
+        self.assertEqual((both.world["control"]["last"], both.world["air"]), (2, (late,)))
+        self.assertEqual(tasks_on(both.world["shelf"], 1, 1), ())
+        self.assertEqual(both.twin().do(("hear", 0)).world, {**both.world, "air": ()})
+
     def test_begin_of_another_epoch(self):
         for event in (("fall",), ("stop",), ("workers", OTHERS), ("torn", ("read", 0), 0)):
             both = Both(self).begun().do(event)
@@ -656,7 +672,8 @@ class Calm(unittest.TestCase):
         return ("begin",) if not world["cuts"] or world["cuts"][-1][1] != places_read(world) else None
 
     def test_each_step(self):
-        for script in ([], FED, FED + [("read", 0), ("begin",), ("hear", 0)], FED + [("hear", 0), ("hear", 0), ("begin",), ("lose", 1), ("read", 0), ("hear", 0), ("lose", 0)], FED + [("fall",), ("stop",), ("torn", FED[0], 4)]):
+        for script in ([], FED, FED + [("read", 0), ("begin",), ("hear", 0)], FED + [("hear", 0), ("hear", 0), ("begin",), ("lose", 1), ("read", 0), ("hear", 0), ("lose", 0)], FED + [("fall",), ("stop",), ("torn", FED[0], 4)],
+                       FED + [("hear", 0), ("hear", 0), ("begin",), ("workers", tuple((name, 1) for name, _ in WORKERS))]):
             world = played(new_world(QUERY, PARTS, WORKERS, 1), script)
             end, many = left_alone(self, calm, world)
             words = collections.Counter()
@@ -667,6 +684,19 @@ class Calm(unittest.TestCase):
             self.assertIsNone(self.next(world))
             self.assertEqual(world, end)
             self.assertGreater(words["hear"], 0)
+
+    def test_the_first_each_time(self):
+        """Rows that could come in any order to one sink: there it stands, in which order they came."""
+        plain = read_query("a: source n number\nb: source n number\nc: both a b\nout c")
+        feeds = [("feed", name, part, ("row", 3, 1, (number,))) for number, (name, part) in enumerate([("b", 0), ("a", 1), ("b", 1), ("a", 0)] * 3)]
+        for room in (1, 3):
+            for workers in ((("a", 1), ("b", 1), ("c", 1), ("out", 1)), (("a", 2), ("b", 2), ("c", 1), ("out", 1)), (("a", 2), ("b", 2), ("c", 2), ("out", 1))):
+                world = played(new_world(plain, {"a": 2, "b": 2}, workers, room), feeds)
+                end, many = calm(world)
+                for _ in range(many):
+                    world = after(world, self.next(world))
+                self.assertEqual(world, end)
+                self.assertEqual(len(end["outside"][2][-1][1][-1][1]), 12)
 
     def test_letters_that_would_only_go_back_are_passed_over(self):
         both = Both(self).do(*FED).begun().do(("read", 0))
