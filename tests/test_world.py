@@ -18,8 +18,9 @@ from oncestream.shelves import cleared, kept_on, kept_text, tasks_on
 from oncestream.texts import read_query
 from oncestream.world import (after, calm, input_of, is_event, judge_world, late_outside, new_world, places_read, played,
                               told_outside, unsettled, why)
-from tests.makers import ANYTHING, exchanged, within
+from tests.makers import ANYTHING, a_draw, exchanged, within
 from tests.plainworld import PlainWorld
+from tests.scripting import a_case, a_world, all_feeds, an_event
 from tests.untouched import left_alone, looked_at
 
 QUERY = read_query("""s: source who text, n number
@@ -697,6 +698,19 @@ class Calm(unittest.TestCase):
                     world = after(world, self.next(world))
                 self.assertEqual(world, end)
                 self.assertEqual(len(end["outside"][2][-1][1][-1][1]), 12)
+
+    def test_each_step_of_drawn_worlds(self):
+        draw = a_draw(595)
+        for _ in range(60):
+            _, plan, fed = a_case(draw)
+            world, feeds = a_world(draw, plan, fed, 4), all_feeds(draw, fed)
+            for _ in range(draw.randint(0, 60)):
+                world = after(world, an_event(draw, world, feeds, 5))
+            world = played(world, feeds)
+            end, steps = calm(world), 0
+            while self.next(world) is not None:
+                world, steps = after(world, self.next(world)), steps + 1
+            self.assertEqual((world, steps), end)
 
     def test_letters_that_would_only_go_back_are_passed_over(self):
         both = Both(self).do(*FED).begun().do(("read", 0))
