@@ -1,8 +1,10 @@
 """Worlds and scripts for tests, drawn by chance that is the same in each run."""
 
+from oncestream.nets import can_move
 from oncestream.planner import planned
 from oncestream.queries import columns_of, judge_query, sources_of
-from oncestream.world import new_world
+from oncestream.shelves import tasks_on
+from oncestream.world import input_of, new_world, places_read
 from tests.makers import a_query
 
 INNER = ("feed", "read", "move", "begin", "hear", "fall", "workers")
@@ -51,6 +53,26 @@ def an_event(draw, world, feeds, bad):
     if chance < 220:
         return ("again",)
     return ("hear", k) if chance < 500 + 20 * min(len(world["air"]), 12) else ("move", k)
+
+
+def calm_event(world):
+    """The event that comes next in a calm run, as 13.5 tells it; None behind the last one."""
+    control = world["control"]
+    for place, letter in enumerate(world["air"]):
+        if letter[0] == "begin" and letter[1] == control["epoch"] and letter[2] > control["last"] and letter[3] not in tasks_on(world["shelf"], letter[1], letter[2]):
+            if world["net"]["tasks"][letter[3]]["outbox"]:
+                continue
+        return ("hear", place)
+    if can_move(world["net"]):
+        return ("move", 0)
+    fed = input_of(world)
+    for (source, part), place in places_read(world):
+        task = (source, part % dict(world["workers"])[source])
+        if place < len(fed[source][part]) and not world["net"]["tasks"][task]["outbox"]:
+            return ("read", 0)
+    if control["phase"] != "run":
+        return ("again",)
+    return ("begin",) if not world["cuts"] or world["cuts"][-1][1] != places_read(world) else None
 
 
 def a_part(draw, columns, most):

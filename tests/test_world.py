@@ -20,7 +20,7 @@ from oncestream.world import (after, calm, input_of, is_event, judge_world, late
                               told_outside, unsettled, why)
 from tests.makers import ANYTHING, a_draw, exchanged, within
 from tests.plainworld import PlainWorld
-from tests.scripting import a_case, a_world, all_feeds, an_event
+from tests.scripting import a_case, a_world, all_feeds, an_event, calm_event
 from tests.untouched import left_alone, looked_at
 
 QUERY = read_query("""s: source who text, n number
@@ -654,24 +654,6 @@ class Shown(unittest.TestCase):
 
 
 class Calm(unittest.TestCase):
-    def next(self, world):
-        """The event that comes next in a calm run, as 13.5 tells it."""
-        control = world["control"]
-        for place, letter in enumerate(world["air"]):
-            if letter[0] == "begin" and letter[1] == control["epoch"] and letter[2] > control["last"] and letter[3] not in tasks_on(world["shelf"], letter[1], letter[2]):
-                if world["net"]["tasks"][letter[3]]["outbox"]:
-                    continue
-            return ("hear", place)
-        if can_move(world["net"]):
-            return ("move", 0)
-        for (source, part), place in places_read(world):
-            task = (source, part % dict(world["workers"])[source])
-            if place < len(input_of(world)[source][part]) and not world["net"]["tasks"][task]["outbox"]:
-                return ("read", 0)
-        if control["phase"] != "run":
-            return ("again",)
-        return ("begin",) if not world["cuts"] or world["cuts"][-1][1] != places_read(world) else None
-
     def test_each_step(self):
         for script in ([], FED, FED + [("read", 0), ("begin",), ("hear", 0)], FED + [("hear", 0), ("hear", 0), ("begin",), ("lose", 1), ("read", 0), ("hear", 0), ("lose", 0)], FED + [("fall",), ("stop",), ("torn", FED[0], 4)],
                        FED + [("hear", 0), ("hear", 0), ("begin",), ("workers", tuple((name, 1) for name, _ in WORKERS))]):
@@ -679,10 +661,10 @@ class Calm(unittest.TestCase):
             end, many = left_alone(self, calm, world)
             words = collections.Counter()
             for _ in range(many):
-                event = self.next(world)
+                event = calm_event(world)
                 words[event[0]] += 1
                 world = after(world, event)
-            self.assertIsNone(self.next(world))
+            self.assertIsNone(calm_event(world))
             self.assertEqual(world, end)
             self.assertGreater(words["hear"], 0)
 
@@ -695,7 +677,7 @@ class Calm(unittest.TestCase):
                 world = played(new_world(plain, {"a": 2, "b": 2}, workers, room), feeds)
                 end, many = calm(world)
                 for _ in range(many):
-                    world = after(world, self.next(world))
+                    world = after(world, calm_event(world))
                 self.assertEqual(world, end)
                 self.assertEqual(len(end["outside"][2][-1][1][-1][1]), 12)
 
@@ -708,13 +690,13 @@ class Calm(unittest.TestCase):
                 world = after(world, an_event(draw, world, feeds, 5))
             world = played(world, feeds)
             end, steps = calm(world), 0
-            while self.next(world) is not None:
-                world, steps = after(world, self.next(world)), steps + 1
+            while calm_event(world) is not None:
+                world, steps = after(world, calm_event(world)), steps + 1
             self.assertEqual((world, steps), end)
 
     def test_letters_that_would_only_go_back_are_passed_over(self):
         both = Both(self).do(*FED).begun().do(("read", 0))
-        self.assertEqual(self.next(both.world), ("hear", 1))
+        self.assertEqual(calm_event(both.world), ("hear", 1))
         self.assertIsNone(judge_world(calm(both.world)[0]))
 
     def test_lost_letters_are_sent_again(self):
