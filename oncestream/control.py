@@ -27,19 +27,6 @@ def holders(query, workers):
     return tuple([task for task in all_tasks(query, workers) if task[0] in names])
 
 
-def again(control):
-    """The letters that control waits to be answered, ascending."""
-    query, epoch, last = control["query"], control["epoch"], control["last"]
-    if control["phase"] == "commit":
-        return (("commit", control["last_epoch"], last, holders(query, control["last_workers"])),)
-    if control["phase"] == "drop":
-        return (("drop", epoch, last),)
-    if control["phase"] == "run":
-        return ()
-    left = [task for task in source_tasks(query, control["workers"]) if task not in control["kept"]]
-    return tuple([("begin", epoch, last + 1, task) for task in left])
-
-
 def _is_pair(value):
     """Whether anything is a pair of a name and how many tasks do its step."""
     return isinstance(value, tuple) and len(value) == 2 and is_name(value[0]) and is_number(value[1], 1, MOST_WORKERS)
@@ -76,28 +63,14 @@ def records_of(disk):
     return tuple(found[:found.index(None)] if None in found else found)
 
 
-def _disk_text(records):
+def records_text(records):
     """The text of all records of a list."""
     return "".join([sealed(word_text(told)) for told in records])
 
 
 def written(disk, records):
     """The disk with more records behind its last whole one."""
-    return _disk_text(records_of(disk)) + _disk_text(records)
-
-
-def torn(disk, records, keep):
-    """The disk behind the writing of records of which only the first signs came to stand, so many."""
-    return _disk_text(records_of(disk)) + _disk_text(records)[:keep]
-
-
-# What control does next: each function returns a triple (control, records, letters).
-
-
-def _changed(control, phase, records):
-    """The triple of a control whose epoch or phase is another one now."""
-    changed = {**control, "phase": phase}
-    return changed, records, again(changed)
+    return records_text(records_of(disk)) + records_text(records)
 
 
 def _same(control):
@@ -105,100 +78,170 @@ def _same(control):
     return {**control}, [], ()
 
 
+def torn(disk, records, keep):
+    """The disk behind the writing of records of which only the first signs came to stand, so many."""
+    return records_text(records_of(disk)) + records_text(records)[:keep]
+
+
+class Ruler:
+    """What control of one query does next; all methods but again return a triple (control, records, letters)."""
+
+    def __init__(self, query):
+        self._query = query
+        # By workers: all tasks, those of sources, and those that hold rows.
+        self._crews = {}
+
+    def _crew(self, workers):
+        if workers not in self._crews:
+            everyone, sources = all_tasks(self._query, workers), sources_of(self._query)
+            reading = tuple([task for task in everyone if task[0] in sources])
+            holding = tuple([task for task in everyone if task[0] in sources or task[0] == "out"])
+            self._crews[workers] = (everyone, reading, holding)
+        return self._crews[workers]
+
+    def again(self, control):
+        """The letters that control waits to be answered, ascending."""
+        epoch, last = control["epoch"], control["last"]
+        if control["phase"] == "commit":
+            return (("commit", control["last_epoch"], last, self._crew(control["last_workers"])[2]),)
+        if control["phase"] == "drop":
+            return (("drop", epoch, last),)
+        if control["phase"] == "run":
+            return ()
+        left = [task for task in self._crew(control["workers"])[1] if task not in control["kept"]]
+        return tuple([("begin", epoch, last + 1, task) for task in left])
+
+    def _changed(self, control, phase, records):
+        """The triple of a control whose epoch or phase is another one now."""
+        changed = {**control, "phase": phase}
+        return changed, records, self.again(changed)
+
+    def first(self, workers):
+        """Control at the beginning."""
+        control = {
+            "query": self._query, "workers": workers, "epoch": 1, "last": 0, "last_epoch": 0, "last_workers": (),
+            "kept": (), "held": (),
+        }
+        return self._changed(control, "drop", [("epoch", 1, workers)])
+
+    def begin(self, control):
+        """Control behind the wish to begin with the next number."""
+        return self._changed(control, "barrier", []) if control["phase"] == "run" else _same(control)
+
+    def _completed(self, control):
+        """Control behind the last letter that the number that goes on was waiting for."""
+        n, epoch, workers = control["last"] + 1, control["epoch"], control["workers"]
+        complete = {**control, "last": n, "last_epoch": epoch, "last_workers": workers, "kept": (), "held": ()}
+        return self._changed(complete, "commit", [("complete", n, epoch, workers)])
+
+    def _hear_of_task(self, control, letter):
+        """Control behind a letter that a task has kept its state, or that its rows are held."""
+        field, task = letter[0], letter[3]
+        if control["phase"] != "barrier" or letter[1:3] != (control["epoch"], control["last"] + 1):
+            return _same(control)
+        everyone, _, holding = self._crew(control["workers"])
+        awaited = {"kept": everyone, "held": holding}
+        if not is_any_task(task) or task not in awaited[field] or task in control[field]:
+            return _same(control)
+        told = {**control, field: tuple(sorted(control[field] + (task,)))}
+        if all(told[other] == awaited[other] for other in awaited):
+            return self._completed(told)
+        return _same(told)
+
+    def hear(self, control, letter):
+        """Control behind a letter, which may be anything."""
+        if not isinstance(letter, tuple) or len(letter) not in (2, 4) or not is_from(letter[1], 1):
+            return _same(control)
+        if len(letter) == 4:
+            is_of_task = letter[0] in ("kept", "held") and is_from(letter[2], 1)
+            return self._hear_of_task(control, letter) if is_of_task else _same(control)
+        if letter == ("done", control["last"]) and control["phase"] == "commit":
+            return self._changed(control, "run" if control["last_epoch"] == control["epoch"] else "drop", [])
+        if letter == ("dropped", control["epoch"]) and control["phase"] == "drop":
+            return self._changed(control, "run", [])
+        return _same(control)
+
+    def renewed(self, control, workers):
+        """Control in the next epoch, with these workers."""
+        epoch = control["epoch"] + 1
+        changed = {**control, "epoch": epoch, "workers": workers, "kept": (), "held": ()}
+        return self._changed(changed, "commit" if control["phase"] == "commit" else "drop", [("epoch", epoch, workers)])
+
+    def returned(self, control):
+        """Control as it comes back from its disk, on which stands all that this one had written when it fell."""
+        epoch, workers = control["epoch"] + 1, control["workers"]
+        changed = {**control, "epoch": epoch, "kept": (), "held": ()}
+        return self._changed(changed, "commit" if control["last"] > 0 else "drop", [("epoch", epoch, workers)])
+
+    def back(self, workers, disk):
+        """Control as it comes back from a disk; workers are those with which it began."""
+        control, records = self.first(workers)[0], records_of(disk)
+        epochs = [told for told in records if told[0] == "epoch"]
+        if len(epochs) == 0:
+            return self.first(workers)
+        control["epoch"], control["workers"] = epochs[-1][1:]
+        completes = [told for told in records if told[0] == "complete"]
+        if len(completes) > 0:
+            control["last"], control["last_epoch"], control["last_workers"] = completes[-1][1:]
+        return self.returned(control)
+
+    def happened(self, control, happening):
+        """The triple of a control behind a happening by which it does not fall."""
+        if happening[0] == "begin":
+            return self.begin(control)
+        if happening[0] == "hear":
+            return self.hear(control, happening[1])
+        if happening[0] == "renew":
+            return self.renewed(control, happening[1])
+        return control, [], self.again(control)
+
+
+def again(control):
+    """The letters that control waits to be answered, ascending."""
+    return Ruler(control["query"]).again(control)
+
+
 def first(query, workers):
-    """Control at the beginning."""
-    control = {
-        "query": query, "workers": workers, "epoch": 1, "last": 0, "last_epoch": 0, "last_workers": (), "kept": (),
-        "held": (),
-    }
-    return _changed(control, "drop", [("epoch", 1, workers)])
+    """Control at the beginning, its records and its letters."""
+    return Ruler(query).first(workers)
 
 
 def begin(control):
-    """Control behind the wish to begin with the next number."""
-    return _changed(control, "barrier", []) if control["phase"] == "run" else _same(control)
-
-
-def _completed(control):
-    """Control behind the last letter that the number that goes on was waiting for."""
-    n, epoch, workers = control["last"] + 1, control["epoch"], control["workers"]
-    complete = {**control, "last": n, "last_epoch": epoch, "last_workers": workers, "kept": (), "held": ()}
-    return _changed(complete, "commit", [("complete", n, epoch, workers)])
-
-
-def _hear_of_task(control, letter):
-    """Control behind a letter that a task has kept its state, or that its rows are held."""
-    query, workers, field, task = control["query"], control["workers"], letter[0], letter[3]
-    awaited = {"kept": all_tasks(query, workers), "held": holders(query, workers)}
-    if not is_any_task(task) or task not in awaited[field] or control["phase"] != "barrier":
-        return _same(control)
-    if letter[1:3] != (control["epoch"], control["last"] + 1):
-        return _same(control)
-    told = {**control, field: tuple(sorted(set(control[field] + (task,))))}
-    if all(told[other] == awaited[other] for other in awaited):
-        return _completed(told)
-    return _same(told)
+    """Control behind the wish to begin with the next number, its records and its letters."""
+    return Ruler(control["query"]).begin(control)
 
 
 def hear(control, letter):
-    """Control behind a letter, which may be anything."""
-    if not isinstance(letter, tuple) or len(letter) not in (2, 4) or not is_from(letter[1], 1):
-        return _same(control)
-    if len(letter) == 4:
-        is_of_task = letter[0] in ("kept", "held") and is_from(letter[2], 1)
-        return _hear_of_task(control, letter) if is_of_task else _same(control)
-    if letter == ("done", control["last"]) and control["phase"] == "commit":
-        return _changed(control, "run" if control["last_epoch"] == control["epoch"] else "drop", [])
-    if letter == ("dropped", control["epoch"]) and control["phase"] == "drop":
-        return _changed(control, "run", [])
-    return _same(control)
+    """Control behind a letter, which may be anything, its records and its letters."""
+    return Ruler(control["query"]).hear(control, letter)
 
 
 def renewed(control, workers):
-    """Control in the next epoch, with these workers."""
-    epoch = control["epoch"] + 1
-    changed = {**control, "epoch": epoch, "workers": workers, "kept": (), "held": ()}
-    return _changed(changed, "commit" if control["phase"] == "commit" else "drop", [("epoch", epoch, workers)])
+    """Control in the next epoch, with these workers, its records and its letters."""
+    return Ruler(control["query"]).renewed(control, workers)
 
 
 def back(query, workers, disk):
-    """Control as it comes back from its disk; workers are those with which it began."""
-    records = records_of(disk)
-    epochs = [told for told in records if told[0] == "epoch"]
-    if len(epochs) == 0:
-        return first(query, workers)
-    _, epoch, now = epochs[-1]
-    completes = [told for told in records if told[0] == "complete"]
-    _, last, last_epoch, last_workers = completes[-1] if len(completes) > 0 else ("complete", 0, 0, ())
-    control = {
-        "query": query, "workers": now, "epoch": epoch + 1, "last": last, "last_epoch": last_epoch,
-        "last_workers": last_workers, "kept": (), "held": (),
-    }
-    return _changed(control, "commit" if last > 0 else "drop", [("epoch", epoch + 1, now)])
-
-
-def _happened(control, happening):
-    """The triple of a control behind a happening that leaves its disk alone."""
-    if happening[0] == "begin":
-        return begin(control)
-    if happening[0] == "hear":
-        return hear(control, happening[1])
-    if happening[0] == "renew":
-        return renewed(control, happening[1])
-    return _same(control)[:2] + (again(control),)
+    """Control as it comes back from its disk, its records and its letters; workers are those with which it began."""
+    return Ruler(query).back(workers, disk)
 
 
 def played(query, workers, happenings):
     """Control and its disk behind a list of happenings, and all letters that left."""
-    control, records, letters = first(query, workers)
-    disk, sent = written("", records), list(letters)
+    ruler = Ruler(query)
+    control, records, letters = ruler.first(workers)
+    disk, sent = records_text(records), list(letters)
     for happening in happenings:
         if happening[0] == "torn":
-            disk = torn(disk, _happened(control, happening[1])[1], happening[2])
+            behind, records, _ = ruler.happened(control, happening[1])
+            text = records_text(records)
+            # What is torn was never there: control comes back without it, and writes over it.
+            if happening[2] >= len(text):
+                control, disk = behind, disk + text
         if happening[0] in ("torn", "stop"):
-            control, records, letters = back(query, workers, disk)
+            control, records, letters = ruler.returned(control)
         else:
-            control, records, letters = _happened(control, happening)
-        disk = written(disk, records)
+            control, records, letters = ruler.happened(control, happening)
+        disk = disk + records_text(records)
         sent.extend(letters)
     return control, disk, tuple(sent)

@@ -160,18 +160,32 @@ def _outcome(word, worths):
     return int(one == 0) if word == "not" else kept_text(one + other)
 
 
-def _worth_of(given, e):
-    """The worth of an expression, given the values of the columns by their names."""
+def _worth_at(places, e):
+    """The function that tells the worth of an expression for values, those of the columns at these places."""
     if e[0] == "column":
-        return given[e[1]]
+        place = places[e[1]]
+        return lambda values: values[place]
     if e[0] == "value":
-        return e[1]
-    return _outcome(e[0], [_worth_of(given, member) for member in e[1:]])
+        return lambda values: e[1]
+    members = [_worth_at(places, member) for member in e[1:]]
+    return lambda values: _outcome(e[0], [member(values) for member in members])
+
+
+def worth_by(columns, e):
+    """The function that tells the worth of an expression for the values of a row of the columns."""
+    return _worth_at({column[0]: place for place, column in enumerate(columns)}, e)
 
 
 def worth(columns, e, values):
     """The worth of an expression for the values of a row of the columns."""
-    return _worth_of({column[0]: value for column, value in zip(columns, values)}, e)
+    told = worth_by(columns, e)
+    return told(values)
+
+
+def holding(columns, e):
+    """The function that tells whether the worth of an expression is an integer other than 0."""
+    told = worth_by(columns, e)
+    return lambda values: _is_yes(told(values))
 
 
 def holds(columns, e, values):

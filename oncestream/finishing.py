@@ -1,7 +1,7 @@
 """The finish of a sum in two steps: what several gathers give for one window is added up."""
 
 from oncestream.bags import row_rank
-from oncestream.graphs import group
+from oncestream.graphs import group, shared_out
 from oncestream.tables import looked_up, with_thing
 from oncestream.values import ranks
 from oncestream.windows import fresh, marked, put
@@ -60,7 +60,6 @@ def finish_operator(keys):
     return (finish_fresh, lambda state, i, row: (finish_put(state, row, keys), ()), finish_marked)
 
 
-def finish_dealt(states, lots, keys):
-    """What each of a list of lots of groups has of all states of the tasks of a finish with so many keys."""
-    whole = finish_joined(states)
-    return [finish_split(whole, groups, keys) for groups in lots]
+def finish_dealt(states, keys, many):
+    """What each of so many tasks gets of all states of the tasks of a finish with so many keys."""
+    return shared_out(finish_joined(states), lambda pair: pair[0][:keys], many)

@@ -1,7 +1,7 @@
 """Graphs: by how many tasks each step is done, the channels between them, and which task gets a row."""
 
-from oncestream.queries import all_columns, keys_of, made_of, out_of, step_of, steps_ahead, steps_behind
-from oncestream.values import values_of
+from oncestream.queries import all_columns, keys_of, made_of, out_of, step_of, steps_ahead
+from oncestream.values import places_in
 
 GROUPS = 16
 FACTOR = 131
@@ -35,16 +35,23 @@ def channels_of(graph):
     return [channel for task in tasks_of(graph) for channel in inputs_of(graph, task)]
 
 
-def readers_of(plan, name):
-    """The pairs (name, sides) of all steps made of a step, in order, "out" last: on which sides each names it."""
-    readers = steps_behind(plan, name) + (("out",) if out_of(plan) == name else ())
-    ahead = [(other, steps_ahead(plan, other)) for other in readers]
-    return [(other, tuple([side for side, of in enumerate(names) if of == name])) for other, names in ahead]
+def readers_by_name(plan):
+    """The pairs (name, sides) of all readers of each step, by its name; they are in order, "out" last."""
+    readers = {name: [] for name, _ in plan}
+    for name, step in plan[:-1]:
+        ahead = made_of(step)
+        if len(ahead) == 2 and ahead[0] == ahead[1]:
+            readers[ahead[0]].append((name, (0, 1)))
+        else:
+            for side, of in enumerate(ahead):
+                readers[of].append((name, (side,)))
+    readers[out_of(plan)].append(("out", (0,)))
+    return readers
 
 
 def outputs_of(graph, task):
     """The channels that leave a task."""
-    readers = readers_of(graph[0], task[0])
+    readers = readers_by_name(graph[0])[task[0]]
     return [(task, side, other) for name, sides in readers for other in tasks_at(graph, name) for side in sides]
 
 
@@ -70,11 +77,28 @@ def owner(g, workers):
     return g * workers // GROUPS
 
 
+def is_keyed(step):
+    """Whether a row's key tells which task of a step gets it."""
+    return step[0] in ("sum", "finish", "join")
+
+
+def keyed_owner(places, values, many):
+    """The number of the task, of so many, that gets a row with these values, its key at these places."""
+    return owner(group([values[place] for place in places]), many)
+
+
+def shared_out(entries, key_of, many):
+    """What each of so many tasks gets of a list of entries, by the keys that key_of tells of them."""
+    lots = [[] for _ in range(many)]
+    for entry in entries:
+        lots[owner(group(key_of(entry)), many)].append(entry)
+    return [tuple(lot) for lot in lots]
+
+
 def route(graph, task, name, side, values):
     """The number of the task of a step that gets a row with these values from a task."""
     plan, many = graph[0], dict(graph[1])[name]
     step = ("out",) if name == "out" else step_of(plan, name)
-    if step[0] not in ("sum", "finish", "join"):
+    if not is_keyed(step):
         return task[1] % many
-    columns = all_columns(plan)[made_of(step)[side]]
-    return owner(group(values_of(columns, keys_of(step), values)), many)
+    return keyed_owner(places_in(all_columns(plan)[made_of(step)[side]], keys_of(step)), values, many)

@@ -1,10 +1,12 @@
 """A house: a world, and the deeds that have led to it, which can be taken back and done again."""
 
+from oncestream.acts import happen, run_calmly
 from oncestream.bags import row_rank
-from oncestream.errors import NothingDone
+from oncestream.errors import BadScript, NothingDone
 from oncestream.queries import sources_of
-from oncestream.settled import lots_told
-from oncestream.world import after, calm, judge_world, late_outside, new_world, places_read, told_outside, unsettled
+from oncestream.running import Run
+from oncestream.settled import Settled
+from oncestream.world import is_event, late_outside, new_world, places_read, told_outside
 
 
 def _listed(bag):
@@ -22,6 +24,9 @@ class House:
         self._worlds = [new_world(query, parts, workers, room)]
         self._all = []
         self._done = 0
+        # The world that stands, as it is run; None if what is known of it is that of another one.
+        self._run = None
+        self._settled = Settled(query)
 
     def world(self):
         """The world behind all deeds that stand done."""
@@ -33,10 +38,16 @@ class House:
 
     def do(self, deed):
         """Does a deed, and returns how many stand done then; raises BadScript if it is none."""
-        here = self.world()
-        behind = calm(here)[0] if deed == ("calm",) else after(here, deed)
-        self._worlds = self._worlds[:self._done + 1] + [behind]
-        self._all = self.deeds() + [deed]
+        if deed != ("calm",) and not is_event(self.world(), deed):
+            raise BadScript(0)
+        if self._run is None:
+            self._run = Run(self.world())
+        if deed == ("calm",):
+            run_calmly(self._run)
+        else:
+            happen(self._run, deed)
+        self._worlds = self._worlds[:self._done + 1] + [self._run.world()]
+        self._all = self._all[:self._done] + [deed]
         self._done += 1
         return self._done
 
@@ -45,6 +56,7 @@ class House:
         if self._done == 0:
             raise NothingDone()
         self._done -= 1
+        self._run = None
         return self._done
 
     def redo(self):
@@ -52,6 +64,7 @@ class House:
         if self._done == len(self._all):
             raise NothingDone()
         self._done += 1
+        self._run = None
         return self._done
 
     def twin(self):
@@ -67,7 +80,7 @@ class House:
 
     def due(self):
         """The ascending pairs (row, how often) of what is still to be told."""
-        return _listed(unsettled(self.world()))
+        return _listed(self._settled.due(self.world()))
 
     def late(self):
         """The pairs ((source, row), how often) of the late rows that are told."""
@@ -92,8 +105,8 @@ class House:
 
     def why(self, row):
         """The lots of a row that is told outside, [] if it is not."""
-        return lots_told(self.world(), row)
+        return self._settled.lots(self.world(), row)
 
     def judge(self):
         """None if just what is due is told outside, else the first fault."""
-        return judge_world(self.world())
+        return self._settled.fault(self.world())

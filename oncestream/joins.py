@@ -2,7 +2,7 @@
 
 from oncestream.bags import bag_of, row_rank
 from oncestream.errors import BadInput
-from oncestream.graphs import group
+from oncestream.graphs import group, shared_out
 from oncestream.marks import END, is_mark
 from oncestream.tables import is_table, with_more
 from oncestream.values import is_bare_row, is_from, ranks
@@ -166,7 +166,13 @@ def join_operator(join, sides):
     return (fresh, put_in_order, lambda state, mark: (marked(join, state, mark)[0], ()))
 
 
-def join_dealt(join, states, lots):
-    """What each of a list of lots of groups has of all states of the tasks of a join."""
-    whole = joined(join, states)
-    return [split(join, whole, groups) for groups in lots]
+def _shared_side(join, side, table, many):
+    """What each of so many tasks gets of the rows of one side."""
+    return shared_out(table, lambda entry: key_of(join, side, entry[0][2]), many)
+
+
+def join_dealt(join, states, many):
+    """What each of so many tasks gets of all states of the tasks of a join."""
+    mark, left, right = joined(join, states)
+    lefts, rights = _shared_side(join, 0, left, many), _shared_side(join, 1, right, many)
+    return [(mark, ones, others) for ones, others in zip(lefts, rights)]

@@ -4,10 +4,11 @@ The interface calls an input "input"; here it is "fed", as that word is no name 
 """
 
 from oncestream.bags import bag_of, row_rank
-from oncestream.expressions import holds, worth
+from oncestream.expressions import holding, worth_by
+from oncestream.logs import late_places
 from oncestream.marks import END, is_mark
 from oncestream.queries import all_columns, made_of, out_of, sources_of, step_of, wanted_of
-from oncestream.values import is_row, rank, values_of
+from oncestream.values import is_row, places_in, rank
 
 
 def is_entry_of(columns, value):
@@ -75,15 +76,10 @@ def marks_of(query, fed):
     return marks
 
 
-def _late_places(part):
-    """The numbers of the rows of a part that are late."""
-    return [place for place, entry in enumerate(part) if entry[0] == "row" and _part_mark(part[:place]) > entry[1]]
-
-
 def all_late(fed):
     """The ascending list of all late rows, each as (source, part, number)."""
     return sorted([
-        (name, number, place) for name in fed for number, part in enumerate(fed[name]) for place in _late_places(part)
+        (name, number, place) for name in fed for number, part in enumerate(fed[name]) for place in late_places(part)
     ])
 
 
@@ -99,23 +95,24 @@ def _source_rows(name, parts):
     """What a source gives."""
     given = []
     for number, part in enumerate(parts):
-        late = _late_places(part)
+        late = late_places(part)
         for place, entry in enumerate(part):
             if entry[0] == "row" and place not in late:
                 given.append((entry[1:], ((name, number, place),)))
     return given
 
 
-def _made_row(columns, told, row):
-    """The row that a make makes of one of these columns."""
-    return (row[0], row[1], tuple([worth(columns, e, row[2]) for _, e in told]))
+def _made_rows(columns, told, given):
+    """What a make makes of the pairs (row, lot) of rows of these columns."""
+    worths = [worth_by(columns, e) for _, e in told]
+    return [((row[0], row[1], tuple([worth(row[2]) for worth in worths])), lot) for row, lot in given]
 
 
 def _by_keys(columns, keys, given):
     """The pairs (row, lot) of each tuple of values of the keys."""
-    groups = {}
+    groups, places = {}, places_in(columns, keys)
     for row, lot in given:
-        groups.setdefault(values_of(columns, keys, row[2]), []).append((row, lot))
+        groups.setdefault(tuple([row[2][place] for place in places]), []).append((row, lot))
     return groups
 
 
@@ -150,11 +147,11 @@ def _by_windows(window, given):
     return groups
 
 
-def _told(columns, how, e, rows):
-    """What a sum tells of the rows of a window."""
+def _told(how, worth, rows):
+    """What a sum tells of the rows of a window, by the function that tells the worth of what is summed up."""
     if how == "count":
         return sum([row[1] for row in rows])
-    worths = [(row[1], worth(columns, e, row[2])) for row in rows]
+    worths = [(row[1], worth(row[2])) for row in rows]
     worths = [(sign, value) for sign, value in worths if value is not None]
     if how == "sum":
         return sum([sign * value for sign, value in worths])
@@ -167,36 +164,37 @@ def _told(columns, how, e, rows):
     return there[0] if how == "least" else there[-1]
 
 
-def _window_row(columns, step, key, stretch, given):
-    """What a closed window gives, of the pairs (row, lot) in it."""
+def _window_row(sums, key, stretch, given):
+    """What a closed window gives, of the pairs (row, lot) in it; sums are the pairs (how, worth) as _told asks them."""
     rows = [row for row, _ in given]
-    sums = tuple([_told(columns, how, e, rows) for _, how, e in step[4]])
+    told = tuple([_told(how, worth, rows) for how, worth in sums])
     lot = tuple(sorted(set([entry for _, entries in given for entry in entries])))
-    return ((stretch[1] - 1, 1, key + stretch + sums), lot)
+    return ((stretch[1] - 1, 1, key + stretch + told), lot)
 
 
 def _sum_rows(columns, step, mark, given):
     """What a sum over rows of these columns gives at a mark."""
-    told = []
+    told, sums = [], [(how, worth_by(columns, e)) for _, how, e in step[4]]
     by_keys = _by_keys(columns, step[2], given)
     for key in by_keys:
         by_windows = _by_windows(step[3], by_keys[key])
         for stretch in by_windows:
             if mark == END or stretch[1] <= mark:
-                told.append(_window_row(columns, step, key, stretch, by_windows[stretch]))
+                told.append(_window_row(sums, key, stretch, by_windows[stretch]))
     return told
 
 
 def _join_rows(left, right, step, given, other):
     """What a join of rows of these two columns gives."""
-    rest = [column[0] for column in right if column[0] not in step[3]]
-    by_keys = _by_keys(right, step[3], other)
+    rest = places_in(right, [column[0] for column in right if column[0] not in step[3]])
+    ones, others = _by_keys(left, step[3], given), _by_keys(right, step[3], other)
     found = []
-    for row, lot in given:
-        for partner, more in by_keys.get(values_of(left, step[3], row[2]), []):
-            if row[0] - step[4] <= partner[0] <= row[0] + step[5]:
-                values = row[2] + values_of(right, rest, partner[2])
-                found.append(((max(row[0], partner[0]), row[1] * partner[1], values), _together(lot, more)))
+    for key in ones:
+        for row, lot in ones[key]:
+            for partner, more in others.get(key, []):
+                if row[0] - step[4] <= partner[0] <= row[0] + step[5]:
+                    values = row[2] + tuple([partner[2][place] for place in rest])
+                    found.append(((max(row[0], partner[0]), row[1] * partner[1], values), _together(lot, more)))
     return found
 
 
@@ -204,9 +202,10 @@ def _step_rows(step, columns, given, mark):
     """What a step that is no source gives, by the columns and the rows of all steps ahead of it."""
     of = step[1]
     if step[0] == "keep":
-        return [(row, lot) for row, lot in given[of] if holds(columns[of], step[2], row[2])]
+        is_kept = holding(columns[of], step[2])
+        return [(row, lot) for row, lot in given[of] if is_kept(row[2])]
     if step[0] == "make":
-        return [(_made_row(columns[of], step[2], row), lot) for row, lot in given[of]]
+        return _made_rows(columns[of], step[2], given[of])
     if step[0] == "both":
         return given[of] + given[step[2]]
     if step[0] == "sum":

@@ -1,10 +1,10 @@
 """Operators: what the tasks of each step do with rows and marks, as triples of functions (fresh, put, marked)."""
 
-from oncestream.expressions import holds, worth
+from oncestream.expressions import holding, worth_by
 from oncestream.finishing import finish_operator
 from oncestream.graphs import inputs_of
 from oncestream.joins import join_of, join_operator
-from oncestream.queries import all_columns, step_of
+from oncestream.queries import all_columns, made_of, step_of
 from oncestream.windows import sum_operator
 
 
@@ -23,31 +23,38 @@ def _passing(rows_of):
     return (_no_state, lambda state, i, row: (state, rows_of(row)), _nothing)
 
 
-def _kept(columns, e, row):
-    """The row, if the expression holds of it."""
-    return (row,) if holds(columns, e, row[2]) else ()
+def _kept(is_kept, row):
+    """The row, if it is kept."""
+    return (row,) if is_kept(row[2]) else ()
 
 
-def _made(columns, told, row):
-    """The row that is made of a row of these columns."""
-    return ((row[0], row[1], tuple([worth(columns, e, row[2]) for _, e in told])),)
+def _made(worths, row):
+    """The row with these worths for values."""
+    return ((row[0], row[1], tuple([worth(row[2]) for worth in worths])),)
+
+
+def step_operator(step, columns, sides):
+    """The operator of all tasks of a step, by the columns of what it is made of and the sides of its inputs."""
+    if step[0] == "both":
+        return _passing(lambda row: (row,))
+    if step[0] == "keep":
+        is_kept = holding(columns[0], step[2])
+        return _passing(lambda row: _kept(is_kept, row))
+    if step[0] == "make":
+        worths = [worth_by(columns[0], e) for _, e in step[2]]
+        return _passing(lambda row: _made(worths, row))
+    if step[0] == "finish":
+        return finish_operator(len(step[2]))
+    if step[0] == "join":
+        return join_operator(join_of(columns[0], columns[1], step[3], step[4], step[5]), sides)
+    return sum_operator(columns[0], step)
 
 
 def operator_of(graph, task):
     """The operator of a task that is none of a source."""
     name = task[0]
-    step = ("out",) if name == "out" else step_of(graph[0], name)
-    if step[0] in ("both", "out"):
+    if name == "out":
         return _passing(lambda row: (row,))
-    columns = all_columns(graph[0])
-    ahead = columns[step[1]]
-    if step[0] == "keep":
-        return _passing(lambda row: _kept(ahead, step[2], row))
-    if step[0] == "make":
-        return _passing(lambda row: _made(ahead, step[2], row))
-    if step[0] == "finish":
-        return finish_operator(len(step[2]))
-    if step[0] == "join":
-        sides = tuple([channel[1] for channel in inputs_of(graph, task)])
-        return join_operator(join_of(ahead, columns[step[2]], step[3], step[4], step[5]), sides)
-    return sum_operator(ahead, step)
+    step, columns = step_of(graph[0], name), all_columns(graph[0])
+    sides = [channel[1] for channel in inputs_of(graph, task)]
+    return step_operator(step, [columns[of] for of in made_of(step)], sides)

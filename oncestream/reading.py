@@ -18,11 +18,10 @@ def _agreed(text, at, word):
 
 def read_one_of(text, at, words):
     """The one that stands here of these words, of which none is a beginning of another."""
-    many = [_agreed(text, at, word) for word in words]
-    for word, agreed in zip(words, many):
-        if agreed == len(word):
-            return word, at + agreed
-    raise BadText(at + max(many))
+    for word in words:
+        if text.startswith(word, at):
+            return word, at + len(word)
+    raise BadText(at + max([_agreed(text, at, word) for word in words]))
 
 
 def behind_word(text, at, word):
@@ -38,6 +37,11 @@ def run_end(text, at, signs, most):
     return end
 
 
+def are_digits(text):
+    """Whether a text is digits, and there are any."""
+    return text.isdigit() and text.isascii()
+
+
 def read_number(text, at, most):
     """An integer from 0 on, of at most so many digits."""
     # A nought ahead of other digits would be needless, so it ends the number.
@@ -45,6 +49,15 @@ def read_number(text, at, most):
     if end == at:
         raise BadText(at)
     return int(text[at:end]), end
+
+
+def number_ahead_of(text, at, sign):
+    """The integer from 0 on that stands here right ahead of this sign, and the place behind it; None if none does."""
+    end = text.find(sign, at)
+    digits = text[at:max(at, end)]
+    if not digits.isdigit() or not digits.isascii() or (digits[0] == "0" and len(digits) > 1):
+        return None
+    return int(digits), end + 1
 
 
 def read_integer(text, at, most):

@@ -1,109 +1,183 @@
-"""What the workers of a world do: logs are written and read, things are moved, and states are put on the shelf."""
+"""A world that is run: what is found out of it on the way is kept, so that nothing is read or built twice."""
 
-from oncestream.logs import entries_of, torn, written
-from oncestream.nets import can_move, moved, read_in, stopped
+from oncestream.control import Ruler, records_text
+from oncestream.graphs import graph
+from oncestream.groups import begun_of, fresh_by, moved_by
+from oncestream.known import KnownLog, KnownShelf
+from oncestream.moves import RunNet
+from oncestream.nets import net_by
 from oncestream.queries import sources_of
-from oncestream.shelves import put_down, tasks_on
-from oncestream.sources import again
+from oncestream.wiring import Wiring
 
 
-def _with_log(world, part, log):
-    """The world in which another log stands for a pair (source, number of the part)."""
-    return {**world, "logs": {**world["logs"], part: log}}
+def parts_of_sources(plan, logs):
+    """The dict from each source to how many parts it has."""
+    return {name: len([pair for pair in logs if pair[0] == name]) for name in sources_of(plan)}
 
 
-def fed(world, source, part, entry):
-    """The world behind an entry that is written to a log."""
-    return _with_log(world, (source, part), written(world["logs"][(source, part)], [entry]))
+def places_of_net(tasks, fields):
+    """How far these source tasks have read, in ascending pairs, by the fields of all tasks."""
+    read = [((task[0], part), place) for task in tasks for part, place, _ in fields[task]["state"][0]]
+    return tuple(sorted(read))
 
 
-def fed_torn(world, source, part, entry, keep):
-    """The world behind an entry of which only the first signs came to stand in a log, so many."""
-    return _with_log(world, (source, part), torn(world["logs"][(source, part)], [entry], keep))
+class Run:
+    """A world as it stands, and what is known of it."""
+
+    def __init__(self, world):
+        # The fields of the world; that of the net is an elder one while the net is run.
+        self.fields = {**world}
+        self.ruler = Ruler(world["plan"])
+        self._logs, self._shelf, self._net = {}, None, None
+        # By workers: the wirings of nets, and the nets that begin behind the last complete number.
+        self._wirings, self._begun = {}, {}
+
+    def world(self):
+        """The world itself."""
+        if self._net is not None:
+            self.fields["net"] = self._net.stands()
+        return {**self.fields}
+
+    # What is known of it.
+
+    def log(self, pair):
+        """The log of a part, by the pair (source, part)."""
+        if pair not in self._logs:
+            self._logs[pair] = KnownLog(self.fields["logs"][pair])
+        return self._logs[pair]
+
+    def shelf(self):
+        """The shelf."""
+        if self._shelf is None:
+            self._shelf = KnownShelf(self.fields["shelf"])
+        return self._shelf
+
+    def _wiring_of(self, workers):
+        if workers not in self._wirings:
+            self._wirings[workers] = Wiring(graph(self.fields["plan"], dict(workers)))
+        return self._wirings[workers]
+
+    def wiring(self):
+        """The wiring of the net."""
+        return self._wiring_of(self.fields["workers"])
+
+    def net(self):
+        """The net, which is run."""
+        if self._net is None:
+            self._net = RunNet(self.wiring(), self.fields["net"])
+        return self._net
+
+    def unread(self):
+        """The triples (task, part, place) of all entries that a source task can read next."""
+        tasks, found = self.net().tasks(), []
+        for task in self.wiring().source_tasks():
+            fields = tasks[task]
+            if len(fields["outbox"]) == 0:
+                for part, place, _ in fields["state"][0]:
+                    if place < self.log((task[0], part)).many():
+                        found.append((task, part, place))
+        return found
+
+    def places(self):
+        """How far the source tasks have read, in ascending pairs."""
+        return places_of_net(self.wiring().source_tasks(), self.net().tasks())
+
+    def is_asked(self, letter):
+        """Whether a source task still has to stop by this letter of control."""
+        _, epoch, n, task = letter
+        control = self.fields["control"]
+        return epoch == control["epoch"] and n > control["last"] and not self.shelf().has(epoch, n, task)
+
+    def goes_back(self, letter):
+        """Whether a letter of control to a source task would only go back to the end of the air."""
+        return self.is_asked(letter) and len(self.net().tasks()[letter[3]]["outbox"]) > 0
+
+    # What comes of it.
+
+    def feed(self, pair, entry, keep):
+        """Writes an entry to a log, or its first signs alone, so many; None stands for all."""
+        log = self.log(pair)
+        log.write(entry, keep)
+        self.fields["logs"] = {**self.fields["logs"], pair: log.stands()}
+
+    def do(self, deed):
+        """Does what a deed tells."""
+        fields, letters = self.fields, deed.get("letters", ())
+        if "kept" in deed:
+            n, task, state, mark = deed["kept"]
+            epoch = fields["control"]["epoch"]
+            self.shelf().put_down(epoch, n, (task, state, mark), None)
+            fields["shelf"], letters = self.shelf().stands(), (("kept", epoch, n, task),) + letters
+        if "heard" in deed or len(letters) > 0:
+            fields["air"] = self._air_without(deed) + letters
+        if "outside" in deed:
+            fields["outside"] = deed["outside"]
+        if "control" in deed:
+            elder, fields["control"] = fields["control"], deed["control"]
+            fields["disk"] = fields["disk"] + records_text(deed["records"])
+            self._settle(elder["epoch"])
+
+    def _air_without(self, deed):
+        """The air without the letter that a deed takes out of it."""
+        air, at = self.fields["air"], deed.get("heard")
+        return air if at is None else air[:at] + air[at + 1:]
+
+    def tear(self, deed, keep):
+        """Does of a deed only that the first signs of what is written come to stand; then control comes back."""
+        fields, shelf = self.fields, self.shelf()
+        control = fields["control"]
+        # No event writes both to the shelf and to the disk: so each gets the first signs of its own.
+        shelf.mend()
+        if "kept" in deed:
+            n, task, state, mark = deed["kept"]
+            shelf.put_down(control["epoch"], n, (task, state, mark), keep)
+        text = records_text(deed.get("records", []))
+        if keep >= len(text):
+            control, fields["disk"] = deed.get("control", control), fields["disk"] + text
+        fields["shelf"], fields["air"] = shelf.stands(), self._air_without(deed)
+        self.do(ruled(self.ruler.returned(control)))
+
+    def _settle(self, epoch):
+        """Behind what control did: a number that has become complete is told, and behind this epoch the net is new."""
+        fields = self.fields
+        control, cuts = fields["control"], fields["cuts"]
+        if control["last"] > len(cuts):
+            fields["cuts"] = cuts + ((control["last"], self._last_places()),)
+            self.shelf().clear(control["last_epoch"], control["last"])
+            fields["shelf"] = self.shelf().stands()
+            self._begun = {}
+        if control["epoch"] != epoch:
+            self._begin_net()
+
+    def _kept_last(self):
+        """What the tasks kept under the last complete number."""
+        control = self.fields["control"]
+        return self.shelf().states(control["last_epoch"], control["last"])
+
+    def _last_places(self):
+        """How far the sources had read when they kept the last complete number, in ascending pairs."""
+        kept, names = self._kept_last(), sources_of(self.fields["plan"])
+        pairs = [((task[0], part), place) for task in kept if task[0] in names for part, place, _ in kept[task][0]]
+        return tuple(sorted(pairs))
+
+    def _new_net(self, workers):
+        """The net that begins with what was kept under the last complete number."""
+        plan, control, wiring = self.fields["plan"], self.fields["control"], self._wiring_of(workers)
+        if control["last"] == 0:
+            kept = fresh_by(wiring, parts_of_sources(plan, self.fields["logs"]))
+        else:
+            kept = moved_by(wiring, control["last_workers"], self._kept_last())
+        return net_by(wiring, self.fields["credits"], begun_of(plan, kept))
+
+    def _begin_net(self):
+        """Lets a new net begin, with the workers that control tells."""
+        workers = self.fields["control"]["workers"]
+        if workers not in self._begun:
+            self._begun[workers] = self._new_net(workers)
+        self.fields["workers"], self.fields["net"], self._net = workers, self._begun[workers], None
 
 
-def source_states(world):
-    """The pairs of all source tasks, in order, and their states."""
-    names, tasks = sources_of(world["plan"]), world["net"]["tasks"]
-    return [(task, tasks[task]["state"]) for task in tasks if task[0] in names]
-
-
-def unread(world):
-    """The triples (task, part, entry) of all entries that a source task can read next."""
-    tasks = world["net"]["tasks"]
-    free = [(task, state) for task, state in source_states(world) if len(tasks[task]["outbox"]) == 0]
-    found = []
-    for task, state in free:
-        for part, place, _ in state[0]:
-            entries = entries_of(world["logs"][(task[0], part)])
-            if place < len(entries):
-                found.append((task, part, entries[place]))
-    return found
-
-
-def read_one(world, k):
-    """The world behind one of the entries that can be read."""
-    found = unread(world)
-    if len(found) == 0:
-        return world
-    task, part, entry = found[k % len(found)]
-    return {**world, "net": read_in(world["net"], task, part, entry)}
-
-
-def _kept_of(world, net, kept, letter):
-    """The world with another net, of which this was kept and this letter goes to the outside; each may be None."""
-    air, shelf = (), world["shelf"]
-    if kept is not None:
-        n, task, state, mark = kept
-        epoch = world["control"]["epoch"]
-        shelf, air = put_down(shelf, epoch, n, task, state, mark), (("kept", epoch, n, task),)
-    if letter is not None:
-        air = air + (letter,)
-    return {**world, "net": net, "shelf": shelf, "air": world["air"] + air}
-
-
-def move_one(world, k):
-    """The world behind one of the moves that its net can make."""
-    moves = can_move(world["net"])
-    if len(moves) == 0:
-        return world
-    net, kept, letter = moved(world["net"], moves[k % len(moves)], world["control"]["epoch"])
-    return _kept_of(world, net, kept, letter)
-
-
-def _is_asked(world, letter):
-    """Whether a source task still has to stop by this letter of control."""
-    _, epoch, n, task = letter
-    control = world["control"]
-    if epoch != control["epoch"] or n <= control["last"]:
-        return False
-    return task not in tasks_on(world["shelf"], epoch, n)
-
-
-def goes_back(world, letter):
-    """Whether a letter of control to a source task would only go back to the end of the air."""
-    return _is_asked(world, letter) and len(world["net"]["tasks"][letter[3]]["outbox"]) > 0
-
-
-def hear_begin(world, letter):
-    """The world behind a letter of control, taken out of the air, to a source task."""
-    if not _is_asked(world, letter):
-        return world
-    if goes_back(world, letter):
-        return {**world, "air": world["air"] + (letter,)}
-    net, kept, own = stopped(world["net"], letter[3], letter[1], letter[2])
-    return _kept_of(world, net, kept, own)
-
-
-def letters_again(world):
-    """What tasks, sources and sinks send once more when they are asked again."""
-    control, tasks, letters = world["control"], world["net"]["tasks"], []
-    if control["phase"] == "barrier":
-        n = control["last"] + 1
-        there = tasks_on(world["shelf"], control["epoch"], n)
-        letters.extend([("kept", control["epoch"], n, task) for task in tasks if task in there])
-    holders = sources_of(world["plan"]) + ("out",)
-    for task in tasks:
-        if task[0] in holders:
-            letters.extend(again(tasks[task]["state"]))
-    return tuple(letters)
+def ruled(triple):
+    """The deed of control that is told by a triple (control, records, letters)."""
+    control, records, letters = triple
+    return {"control": control, "records": records, "letters": letters}

@@ -1,7 +1,7 @@
 """Words as texts that can be read again, and seals, by which a text that was cut short is known."""
 
 from oncestream.errors import BadText
-from oncestream.reading import DIGITS, behind_word, need_end, read_integer, read_number
+from oncestream.reading import are_digits, behind_word, need_end, number_ahead_of, read_integer, read_number
 
 FACTOR = 131
 MODULUS = 99991
@@ -13,11 +13,13 @@ SINGLE = {"N": None, "T": True, "F": False}
 
 def _plain_text(word):
     """The text of a word that is no tuple."""
+    if isinstance(word, str):
+        return f"t{len(word)}:{word}"
     if word is None:
         return "N"
     if isinstance(word, bool):
         return "T" if word else "F"
-    return f"t{len(word)}:{word}" if isinstance(word, str) else f"i{word};"
+    return f"i{word};"
 
 
 # Words and their texts may stand deep within one another: so both are gone through without a call within a call.
@@ -25,65 +27,81 @@ def _plain_text(word):
 
 def word_text(word):
     """The text of a word."""
-    texts, waiting = [], [(True, word)]
+    # A list, which is no word, stands where a tuple ends.
+    texts, waiting, end = [], [word], []
     while waiting:
-        is_word, part = waiting.pop()
-        if not is_word:
-            texts.append(part)
-        elif isinstance(part, tuple):
+        part = waiting.pop()
+        if isinstance(part, tuple):
             texts.append("(")
-            waiting.append((False, ")"))
-            waiting.extend([(True, member) for member in part[::-1]])
+            waiting.append(end)
+            waiting.extend(part[::-1])
         else:
-            texts.append(_plain_text(part))
+            texts.append(")" if isinstance(part, list) else _plain_text(part))
     return "".join(texts)
 
 
-def _plain_end(text, begin, end):
-    """The place, at most end, behind the signs from the blank to ~ that stand from begin on."""
-    at = begin
-    while at < end and at < len(text) and " " <= text[at] <= "~":
-        at += 1
-    return at
+def _is_plain(text):
+    """Whether all signs of a text are signs from the blank to ~."""
+    return text.isascii() and text.isprintable()
+
+
+def _read_number(text, at):
+    """The integer of a word that stands here, and the place behind it."""
+    found = number_ahead_of(text, at, ";")
+    if found is not None:
+        return found
+    word, at = read_integer(text, at, len(text))
+    return word, behind_word(text, at, ";")
+
+
+def _read_signs(text, at):
+    """The text of a word that stands here, its number of signs ahead, and the place behind it."""
+    found = number_ahead_of(text, at, ":")
+    if found is None:
+        many, at = read_number(text, at, len(text))
+        found = (many, behind_word(text, at, ":"))
+    many, begin = found
+    word = text[begin:begin + many]
+    if not _is_plain(word):
+        raise BadText(begin + [_is_plain(sign) for sign in word].index(False))
+    if len(word) < many:
+        raise BadText(len(text))
+    return word, begin + many
 
 
 def _read_plain(text, at):
     """A word that is no tuple, and the place behind it."""
     sign = text[at:at + 1]
+    if sign == "i":
+        return _read_number(text, at + 1)
+    if sign == "t":
+        return _read_signs(text, at + 1)
     if sign in SINGLE:
         return SINGLE[sign], at + 1
-    if sign == "i":
-        word, at = read_integer(text, at + 1, len(text))
-        return word, behind_word(text, at, ";")
-    if sign != "t":
-        raise BadText(at)
-    many, at = read_number(text, at + 1, len(text))
-    begin = behind_word(text, at, ":")
-    end = _plain_end(text, begin, begin + many)
-    if end < begin + many:
-        raise BadText(end)
-    return text[begin:end], end
+    raise BadText(at)
 
 
 def read_word(text):
     """The word that a text tells; raises BadText if it tells none."""
-    # What is read of each tuple that is not read whole yet, the outermost one first; ahead of them the word itself,
-    # which comes there only when it is read whole.
-    waiting, at = [[]], 0
-    while len(waiting[0]) == 0:
+    # What is read of each tuple that is not read whole yet, the outermost one first; the first of all is no tuple, but
+    # holds the word itself when it is read whole.
+    waiting, members, at = [], [], 0
+    while len(waiting) > 0 or len(members) == 0:
         sign = text[at:at + 1]
         if sign == "(":
-            waiting.append([])
+            waiting.append(members)
+            members = []
             at += 1
-        elif sign == ")" and len(waiting) > 1:
+        elif sign == ")" and len(waiting) > 0:
+            word = tuple(members)
             members = waiting.pop()
-            waiting[-1].append(tuple(members))
+            members.append(word)
             at += 1
         else:
             word, at = _read_plain(text, at)
-            waiting[-1].append(word)
+            members.append(word)
     need_end(text, at)
-    return waiting[0][0]
+    return members[0]
 
 
 def check_of(text):
@@ -109,11 +127,11 @@ def _sealed_at(text, at):
     begin = text.find(":", at) + 1
     number = text[at:max(at, begin - 1)]
     # A number with more digits than that of all signs is none of a text that stands here whole.
-    if not 0 < len(number) <= len(str(len(text))) or not all(sign in DIGITS for sign in number):
+    if len(number) > len(str(len(text))) or not are_digits(number):
         return None
     end = begin + int(number)
     word = text[begin:end]
-    if _plain_end(text, begin, end) < end or sealed(word) != text[at:end + CHECK_SIGNS]:
+    if len(word) < end - begin or not _is_plain(word) or sealed(word) != text[at:end + CHECK_SIGNS]:
         return None
     return word, end + CHECK_SIGNS
 
@@ -132,3 +150,16 @@ def read_records(text):
 def whole_seals(text):
     """A text without what is left behind the seals at its beginning."""
     return text[:len(text) - len(read_records(text)[1])]
+
+
+def seals_by_length(text, at):
+    """The pairs (seal, text in it) from a place on, where each seal was written whole, but perhaps the last one."""
+    found, colon = [], text.find(":", at)
+    while colon >= 0:
+        end = colon + 1 + int(text[at:colon])
+        if end + CHECK_SIGNS > len(text):
+            break
+        found.append((text[at:end + CHECK_SIGNS], text[colon + 1:end]))
+        at = end + CHECK_SIGNS
+        colon = text.find(":", at)
+    return found

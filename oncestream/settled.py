@@ -1,54 +1,83 @@
 """What a world has told outside, and what the plain meaning tells of as much of its input."""
 
 from oncestream.bags import bag_of, taken, unlike
-from oncestream.logs import entries_of
-from oncestream.meaning import all_late, cut, lots_of, meaning
+from oncestream.known import KnownLog
+from oncestream.meaning import all_late, cut, rows_with_lots
 from oncestream.outside import committed, last_of
 from oncestream.queries import sources_of
 from oncestream.rewritings import unplanned
 
 
-def whole_input(world):
-    """The input that the logs hold."""
-    logs, fed = world["logs"], {}
-    for name in sources_of(world["plan"]):
-        parts = sorted([pair for pair in logs if pair[0] == name])
-        fed[name] = tuple([entries_of(logs[pair]) for pair in parts])
-    return fed
+class Meant:
+    """What a query gives for an input: found out anew only when another input is asked."""
+
+    def __init__(self, query):
+        self._query = query
+        self._fed, self._rows, self._bag = None, [], {}
+
+    def _ask(self, fed):
+        if fed != self._fed:
+            self._rows = rows_with_lots(self._query, fed)
+            self._fed, self._bag = fed, bag_of([row for row, _ in self._rows])
+
+    def bag(self, fed):
+        """The bag of the rows; it is not to be changed."""
+        self._ask(fed)
+        return self._bag
+
+    def lots(self, fed, row):
+        """The lots of all rows that are this row."""
+        self._ask(fed)
+        return [lot for other, lot in self._rows if other == row]
 
 
-def _told_input(world):
-    """The input up to the places of the last number that is told outside."""
-    last = last_of(world["outside"])
-    places = {pair: 0 for pair in world["logs"]}
-    for n, pairs in world["cuts"]:
-        if n == last:
-            places = dict(pairs)
-    return cut(whole_input(world), places)
+class Settled:
+    """Worlds of one plan, held against its plain meaning."""
 
+    def __init__(self, plan):
+        self._sources = sources_of(plan)
+        self._logs = {}
+        # What is told already is asked for two inputs in turn: all of it, and as much as is told outside.
+        self._due, self._told = Meant(unplanned(plan)), Meant(unplanned(plan))
 
-def _out_bag(world):
-    """The bag of what the query has given out."""
-    return committed(world["outside"], "out")
+    def _entries(self, pair, log):
+        if pair not in self._logs:
+            self._logs[pair] = KnownLog(log)
+        self._logs[pair].follow(log)
+        return self._logs[pair].entries()
 
+    def whole_input(self, world):
+        """The input that the logs hold."""
+        logs, fed = world["logs"], {}
+        for name in self._sources:
+            parts = sorted([pair for pair in logs if pair[0] == name])
+            fed[name] = tuple([self._entries(pair, logs[pair]) for pair in parts])
+        return fed
 
-def lots_told(world, row):
-    """The lots of a row that is told outside, [] if it is not."""
-    return lots_of(unplanned(world["plan"]), _told_input(world), row) if row in _out_bag(world) else []
+    def _told_input(self, world):
+        """The input up to the places of the last number that is told outside."""
+        last = last_of(world["outside"])
+        places = {pair: 0 for pair in world["logs"]}
+        for n, pairs in world["cuts"]:
+            if n == last:
+                places = dict(pairs)
+        return cut(self.whole_input(world), places)
 
+    def lots(self, world, row):
+        """The lots of a row that is told outside, [] if it is not."""
+        return self._told.lots(self._told_input(world), row) if row in committed(world["outside"], "out") else []
 
-def still_due(world):
-    """The bag of what all the input would tell already, and is not told."""
-    return taken(meaning(unplanned(world["plan"]), whole_input(world)), _out_bag(world))
+    def due(self, world):
+        """The bag of what all the input would tell already, and is not told."""
+        return taken(self._due.bag(self.whole_input(world)), committed(world["outside"], "out"))
 
-
-def fault_outside(world):
-    """None if just what is due is told outside, else the first fault."""
-    plan, fed = world["plan"], _told_input(world)
-    late = all_late(fed)
-    for name in sources_of(plan):
-        rows = [fed[name][part][place][1:] for source, part, place in late if source == name]
-        if committed(world["outside"], name) != bag_of(rows):
-            return ("late", name)
-    found = unlike(_out_bag(world), meaning(unplanned(plan), fed))
-    return None if found is None else ("out",) + found
+    def fault(self, world):
+        """None if just what is due is told outside, else the first fault."""
+        fed = self._told_input(world)
+        late = all_late(fed)
+        for name in self._sources:
+            rows = [fed[name][part][place][1:] for source, part, place in late if source == name]
+            if committed(world["outside"], name) != bag_of(rows):
+                return ("late", name)
+        found = unlike(committed(world["outside"], "out"), self._told.bag(fed))
+        return None if found is None else ("out",) + found

@@ -21,7 +21,7 @@ def is_number(value, low, high):
 def is_value(value):
     """Whether anything is a value: None, an integer, or a short text of plain signs."""
     if isinstance(value, str):
-        return len(value) <= MOST_SIGNS and all(sign in SIGNS for sign in value)
+        return len(value) <= MOST_SIGNS and value.strip(SIGNS) == ""
     return value is None or (isinstance(value, int) and not isinstance(value, bool))
 
 
@@ -41,7 +41,7 @@ def rank(value):
 
 def ranks(values):
     """The ranks of a tuple of values, by which such tuples ascend."""
-    return tuple(rank(value) for value in values)
+    return tuple([rank(value) for value in values])
 
 
 def kept_text(text):
@@ -53,7 +53,7 @@ def is_name(value):
     """Whether anything is a name: one to eight letters a to z."""
     if not isinstance(value, str) or not 1 <= len(value) <= MOST_LETTERS:
         return False
-    return all(sign in LETTERS for sign in value)
+    return value.strip(LETTERS) == ""
 
 
 def _is_column(value):
@@ -100,7 +100,7 @@ def is_row(columns, value):
     return all(_fits(column, member) for column, member in zip(columns, value[2]))
 
 
-def values_of(columns, names, values):
-    """Of the values of a row of the columns those in the columns with these names, in the order of the names."""
-    given = {column[0]: value for column, value in zip(columns, values)}
-    return tuple([given[name] for name in names])
+def places_in(columns, names):
+    """The places in the columns of those with these names, in the order of the names."""
+    there = [column[0] for column in columns]
+    return tuple([there.index(name) for name in names])

@@ -3,12 +3,12 @@
 from math import gcd
 
 from oncestream.errors import BadInput
-from oncestream.expressions import worth
-from oncestream.graphs import group
+from oncestream.expressions import worth_by
+from oncestream.graphs import group, shared_out
 from oncestream.marks import is_mark
 from oncestream.sums import is_lot, merged, row_alone, rows_in, told
 from oncestream.tables import is_table, looked_up, with_thing
-from oncestream.values import is_from, is_value, rank, ranks, values_of
+from oncestream.values import is_from, is_value, places_in, rank, ranks
 
 
 def windows_of(window, time):
@@ -63,14 +63,31 @@ def _with_lots(hows, groups, key, lots):
     return with_thing(groups, key, slots, ranks)
 
 
+def _is_in_window(window, time):
+    """Whether a time is in some window: between sliding ones there may be times that are in none."""
+    return window[0] != "sliding" or len(windows_of(window, time)) > 0
+
+
+def _putting(columns, step):
+    """The function that tells the state behind one more row of these columns."""
+    window, hows, places = step[3], _hows(step), places_in(columns, step[2])
+    worths = [worth_by(columns, e) for _, _, e in step[4]]
+
+    def put_row(state, row):
+        time, sign, values = row
+        if time < state[0] or not _is_in_window(window, time):
+            return state
+        lot = row_alone(hows, [worth(values) for worth in worths], sign)
+        key = tuple([values[place] for place in places])
+        return (state[0], _with_lots(hows, state[1], key, ((slot(window, time), lot),)))
+
+    return put_row
+
+
 def put(columns, step, state, row):
     """The state behind one more row, and the rows that it gives: none."""
-    window, (time, sign, values) = step[3], row
-    if time < state[0] or len(stretches(window, (time,))) == 0:
-        return state, ()
-    hows, key = _hows(step), values_of(columns, step[2], values)
-    lot = row_alone(hows, [worth(columns, e, values) for _, _, e in step[4]], sign)
-    return (state[0], _with_lots(hows, state[1], key, ((slot(window, time), lot),))), ()
+    put_row = _putting(columns, step)
+    return put_row(state, row), ()
 
 
 def _window_row(hows, key, stretch, lot):
@@ -167,20 +184,20 @@ def joined(step, states):
         if mark != states[0][0]:
             raise BadInput(number)
         for key, slots in more:
-            groups = _with_lots(hows, groups, key, slots)
+            if looked_up(groups, key, ranks) is None:
+                groups = with_thing(groups, key, slots, ranks)
+            else:
+                groups = _with_lots(hows, groups, key, slots)
     return (states[0][0], groups)
 
 
 def sum_operator(columns, step):
     """What a task does whose step sums rows of these columns: the functions fresh, put and marked."""
-    return (
-        fresh,
-        lambda state, i, row: put(columns, step, state, row),
-        lambda state, mark: marked(step, state, mark),
-    )
+    put_row = _putting(columns, step)
+    return (fresh, lambda state, i, row: (put_row(state, row), ()), lambda state, mark: marked(step, state, mark))
 
 
-def sum_dealt(step, states, lots):
-    """What each of a list of lots of groups has of all states of the tasks of a step."""
-    whole = joined(step, states)
-    return [split(whole, groups) for groups in lots]
+def sum_dealt(step, states, many):
+    """What each of so many tasks gets of all states of the tasks of a step."""
+    mark, groups = joined(step, states)
+    return [(mark, lot) for lot in shared_out(groups, lambda pair: pair[0], many)]

@@ -15,7 +15,8 @@ BUILTINS = set("""len range enumerate zip min max sum abs sorted reversed int st
     ArithmeticError OverflowError RuntimeError NotImplementedError super""".split())
 METHODS = set("""append clear copy count endswith extend find get index insert isalnum isalpha isdigit islower isspace
     isupper items join keys ljust lower lstrip partition pop remove replace reverse rfind rjust rpartition rsplit rstrip
-    setdefault split splitlines startswith strip update upper values zfill bit_length add discard __init__""".split())
+    setdefault split splitlines startswith strip update upper values zfill bit_length isascii isprintable add discard
+    __init__""".split())
 LIBRARY = {"math": {"gcd", "lcm", "isqrt", "comb", "perm", "factorial"}}
 BARRED = set("""register mro elements open input law version_info with_traceback add_note attrgetter breakpoint builtins
     compile copyright credits delattr dir eval exec exit gc globals help id importlib license locals methodcaller os quit
