@@ -13,9 +13,8 @@ from oncestream.sources import again
 
 
 def _keeping(kept, letter):
-    """The deed of a task that keeps something and sends a letter to the outside; each may be None."""
-    deed = {} if kept is None else {"kept": kept}
-    return deed if letter is None else {**deed, "letters": (letter,)}
+    """The deed of a task that keeps something and perhaps sends a letter to the outside, which else is None."""
+    return {"kept": kept, "letters": () if letter is None else (letter,)}
 
 
 def _reading(run, task, part, place):
@@ -61,7 +60,7 @@ def _again(run, event):
 
 def _picked(run, k):
     """The place of the letter that a number tells, None if there is no letter."""
-    many = len(run.fields["air"])
+    many = len(run.air)
     return None if many == 0 else k % many
 
 
@@ -72,7 +71,7 @@ def _lose(run, event):
 
 def _double(run, event):
     at = _picked(run, event[1])
-    return {} if at is None else {"letters": (run.fields["air"][at],)}
+    return {} if at is None else {"letters": (run.air[at],)}
 
 
 def _hear(run, event):
@@ -93,7 +92,7 @@ def _stopping(run, letter):
 
 def _hearing(run, at):
     """The letter at this place in the air is heard by whom it is for."""
-    letter = run.fields["air"][at]
+    letter = run.air[at]
     if letter[0] == "begin":
         deed = _stopping(run, letter)
     elif letter[0] in ("hold", "commit", "drop"):
@@ -142,7 +141,7 @@ def happen(run, event):
 
 def _next_calm(run):
     """The deed that comes next in a calm run, None if all is settled."""
-    for place, letter in enumerate(run.fields["air"]):
+    for place, letter in enumerate(run.air):
         if letter[0] != "begin" or not run.goes_back(letter):
             return _hearing(run, place)
     move = run.net().first()

@@ -24,7 +24,7 @@ class House:
         self._worlds = [new_world(query, parts, workers, room)]
         self._all = []
         self._done = 0
-        # The world that stands, as it is run; None if what is known of it is that of another one.
+        # The world that stands, as it is run; None at first, and from when something is taken back until the next deed.
         self._run = None
         self._settled = Settled(query)
 
@@ -46,8 +46,10 @@ class House:
             run_calmly(self._run)
         else:
             happen(self._run, deed)
-        self._worlds = self._worlds[:self._done + 1] + [self._run.world()]
-        self._all = self._all[:self._done] + [deed]
+        del self._worlds[self._done + 1:]
+        del self._all[self._done:]
+        self._worlds.append(self._run.world())
+        self._all.append(deed)
         self._done += 1
         return self._done
 
@@ -64,7 +66,6 @@ class House:
         if self._done == len(self._all):
             raise NothingDone()
         self._done += 1
-        self._run = None
         return self._done
 
     def twin(self):

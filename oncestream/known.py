@@ -69,9 +69,9 @@ class KnownLog:
             self._entries[told] = read_word(told)
         return self._entries[told]
 
-    def entries(self):
-        """All entries."""
-        return tuple([self.entry(place) for place in range(self.many())])
+    def entries(self, many):
+        """The first entries, so many."""
+        return tuple([self.entry(place) for place in range(many)])
 
     def follow(self, text):
         """Makes it another log."""

@@ -7,7 +7,7 @@ own_net, which shares no dict of tasks or of channels with another one; the fiel
 
 from oncestream.barriers import come, is_held
 from oncestream.errors import Blocked
-from oncestream.groups import begun_of, fresh_kept
+from oncestream.groups import begun_of, fresh_by
 from oncestream.marks import new_marks, put_mark, risen
 from oncestream.sinks import at_sink, put_row
 from oncestream.sources import at_source, read
@@ -60,8 +60,8 @@ def net_of(graph, room, begun):
 
 def fresh_net(graph, parts, room):
     """The net at the beginning, by how many parts each source has."""
-    plan, workers = graph
-    return net_of(graph, room, begun_of(plan, fresh_kept(plan, workers, parts)))
+    wiring = Wiring(graph)
+    return net_by(wiring, room, begun_of(graph[0], fresh_by(wiring, parts)))
 
 
 def may_send(net, task):
@@ -205,8 +205,9 @@ def stopped(net, task, epoch, n):
 
 def can_move(net):
     """The ascending list of all that can be done: things that may be sent, and channels that may be taken from."""
+    telling = [task for task, fields in net["tasks"].items() if len(fields["outbox"]) > 0]
     filled = [channel for channel, things in net["channels"].items() if len(things) > 0]
-    sends = sorted([("send", task) for task in net["tasks"] if may_send(net, task)])
+    sends = sorted([("send", task) for task in telling if may_send(net, task)])
     return sends + sorted([("take", channel) for channel in filled if may_take(net, channel)])
 
 

@@ -25,8 +25,9 @@ class Run:
     """A world as it stands, and what is known of it."""
 
     def __init__(self, world):
-        # The fields of the world; that of the net is an elder one while the net is run.
+        # The fields of the world; those of the air and of the net are elder ones while the world is run.
         self.fields = {**world}
+        self.air = list(world["air"])
         self.ruler = Ruler(world["plan"])
         self._logs, self._shelf, self._net = {}, None, None
         # By workers: the wirings of nets, and the nets that begin behind the last complete number.
@@ -36,7 +37,7 @@ class Run:
         """The world itself."""
         if self._net is not None:
             self.fields["net"] = self._net.stands()
-        return {**self.fields}
+        return {**self.fields, "air": tuple(self.air)}
 
     # What is known of it.
 
@@ -102,25 +103,22 @@ class Run:
 
     def do(self, deed):
         """Does what a deed tells."""
-        fields, letters = self.fields, deed.get("letters", ())
+        fields = self.fields
+        if "heard" in deed:
+            del self.air[deed["heard"]]
         if "kept" in deed:
             n, task, state, mark = deed["kept"]
             epoch = fields["control"]["epoch"]
             self.shelf().put_down(epoch, n, (task, state, mark), None)
-            fields["shelf"], letters = self.shelf().stands(), (("kept", epoch, n, task),) + letters
-        if "heard" in deed or len(letters) > 0:
-            fields["air"] = self._air_without(deed) + letters
+            fields["shelf"] = self.shelf().stands()
+            self.air.append(("kept", epoch, n, task))
+        self.air.extend(deed.get("letters", ()))
         if "outside" in deed:
             fields["outside"] = deed["outside"]
         if "control" in deed:
             elder, fields["control"] = fields["control"], deed["control"]
             fields["disk"] = fields["disk"] + records_text(deed["records"])
             self._settle(elder["epoch"])
-
-    def _air_without(self, deed):
-        """The air without the letter that a deed takes out of it."""
-        air, at = self.fields["air"], deed.get("heard")
-        return air if at is None else air[:at] + air[at + 1:]
 
     def tear(self, deed, keep):
         """Does of a deed only that the first signs of what is written come to stand; then control comes back."""
@@ -134,7 +132,9 @@ class Run:
         text = records_text(deed.get("records", []))
         if keep >= len(text):
             control, fields["disk"] = deed.get("control", control), fields["disk"] + text
-        fields["shelf"], fields["air"] = shelf.stands(), self._air_without(deed)
+        fields["shelf"] = shelf.stands()
+        if "heard" in deed:
+            del self.air[deed["heard"]]
         self.do(ruled(self.ruler.returned(control)))
 
     def _settle(self, epoch):

@@ -2,7 +2,7 @@
 
 from oncestream.bags import bag_of, taken, unlike
 from oncestream.known import KnownLog
-from oncestream.meaning import all_late, cut, rows_with_lots
+from oncestream.meaning import all_late, rows_with_lots
 from oncestream.outside import committed, last_of
 from oncestream.queries import sources_of
 from oncestream.rewritings import unplanned
@@ -37,31 +37,37 @@ class Settled:
     def __init__(self, plan):
         self._sources = sources_of(plan)
         self._logs = {}
-        # What is told already is asked for two inputs in turn: all of it, and as much as is told outside.
-        self._due, self._told = Meant(unplanned(plan)), Meant(unplanned(plan))
+        # What comes of two inputs is asked in turn: of all that the logs hold, and of as much as is told outside.
+        query = unplanned(plan)
+        self._due, self._told = Meant(query), Meant(query)
 
-    def _entries(self, pair, log):
+    def _log(self, world, pair):
+        """The log of a part, by the pair (source, part)."""
+        log = world["logs"][pair]
         if pair not in self._logs:
             self._logs[pair] = KnownLog(log)
         self._logs[pair].follow(log)
-        return self._logs[pair].entries()
+        return self._logs[pair]
+
+    def _cut_at(self, world, places):
+        """The input up to these places."""
+        fed = {}
+        for name in self._sources:
+            parts = sorted([pair for pair in world["logs"] if pair[0] == name])
+            fed[name] = tuple([self._log(world, pair).entries(places[pair]) for pair in parts])
+        return fed
 
     def whole_input(self, world):
         """The input that the logs hold."""
-        logs, fed = world["logs"], {}
-        for name in self._sources:
-            parts = sorted([pair for pair in logs if pair[0] == name])
-            fed[name] = tuple([self._entries(pair, logs[pair]) for pair in parts])
-        return fed
+        return self._cut_at(world, {pair: self._log(world, pair).many() for pair in world["logs"]})
 
     def _told_input(self, world):
         """The input up to the places of the last number that is told outside."""
         last = last_of(world["outside"])
-        places = {pair: 0 for pair in world["logs"]}
         for n, pairs in world["cuts"]:
             if n == last:
-                places = dict(pairs)
-        return cut(self.whole_input(world), places)
+                return self._cut_at(world, dict(pairs))
+        return self._cut_at(world, {pair: 0 for pair in world["logs"]})
 
     def lots(self, world, row):
         """The lots of a row that is told outside, [] if it is not."""

@@ -8,18 +8,20 @@ from oncestream.control import first, written
 from oncestream.errors import BadScript
 from oncestream.events import is_event_of
 from oncestream.graphs import graph
-from oncestream.groups import begun_of, fresh_kept
-from oncestream.nets import net_of
+from oncestream.groups import begun_of, fresh_by
+from oncestream.nets import net_by
 from oncestream.outside import committed, fresh_outside
 from oncestream.queries import sources_of
 from oncestream.running import Run, places_of_net
 from oncestream.settled import Settled
+from oncestream.wiring import Wiring
 
 
 def new_world(plan, parts, workers, room):
     """The world at the beginning, by how many parts each source has, and how many things a channel holds."""
     control, records, letters = first(plan, workers)
-    net = net_of(graph(plan, dict(workers)), room, begun_of(plan, fresh_kept(plan, workers, parts)))
+    wiring = Wiring(graph(plan, dict(workers)))
+    net = net_by(wiring, room, begun_of(plan, fresh_by(wiring, parts)))
     return {
         "plan": plan, "logs": {(name, part): "" for name in sources_of(plan) for part in range(parts[name])},
         "credits": room, "workers": workers, "net": net, "shelf": "", "disk": written("", records),

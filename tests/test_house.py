@@ -1,4 +1,5 @@
 import collections
+import copy
 import unittest
 
 from oncestream.errors import BadScript, NothingDone
@@ -121,6 +122,25 @@ class Deeds(unittest.TestCase):
         other = twin.twin()
         other.do(("stop",))
         self.assertEqual((len(other.deeds()), len(twin.deeds())), (5, 4))
+
+    def test_worlds_that_were_told_stay(self):
+        """A house goes on from the world that it has told: that one is not changed, nor are those of twins."""
+        draw = a_draw(582)
+        for _ in range(15):
+            query, _, fed = a_case(draw)
+            house, told, feeds = House(query, {name: len(fed[name]) for name in fed}, some_workers(draw, query), draw.choice((1, 2, 5))), [], all_feeds(draw, fed)
+            for _ in range(60):
+                chance = draw.random()
+                if chance < 0.1 and house.deeds():
+                    house.undo()
+                elif chance < 0.15:
+                    house = house.twin()
+                else:
+                    house.do(feeds.pop(0) if feeds and chance < 0.5 else ("calm",) if chance > 0.97 else an_event(draw, house.world(), feeds, 30))
+                told.append((house.world(), copy.deepcopy(house.world())))
+                house.judge(), house.due()
+            for one, other in told:
+                self.assertEqual(repr(one), repr(other))
 
     def test_nothing_is_shared_with_those_who_call(self):
         parts = dict(PARTS)
