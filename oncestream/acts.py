@@ -1,9 +1,9 @@
-"""What each event of a world does.
+"""What each event does to a world that is run, and calm runs.
 
-What is done in the net is done at once; what else comes of it is told as a deed, ahead of being done: for an event that
-is torn it is not. A deed is a dict, of whose fields none need be there: "kept", what a task keeps, (n, task, state,
-mark); "heard", the place of the letter that is taken out of the air; "letters", which leave; "outside" and "control",
-as they are then; with the control stand the "records" that it writes. To feed is no deed.
+What an event does in the net is done at once: behind an event that is torn the net is made anew anyway. All else is
+told as a deed, which is done then, or torn. A deed is a dict; none of its fields need be there: "heard", the place of
+the letter that is taken out of the air; "kept", what a task keeps, (n, task, state, mark); "letters", which leave;
+"outside" and "control", as they are then; and beside the control the "records" that it writes. To feed is no deed.
 """
 
 from oncestream.outside import heard

@@ -168,7 +168,7 @@ def _worth_at(places, e):
     if e[0] == "value":
         return lambda values: e[1]
     members = [_worth_at(places, member) for member in e[1:]]
-    return lambda values: _outcome(e[0], [member(values) for member in members])
+    return lambda values: _outcome(e[0], [told(values) for told in members])
 
 
 def worth_by(columns, e):
