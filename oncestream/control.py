@@ -73,14 +73,14 @@ def written(disk, records):
     return records_text(records_of(disk)) + records_text(records)
 
 
-def _same(control):
-    """The triple of a control that has nothing to tell."""
-    return {**control}, [], ()
-
-
 def torn(disk, records, keep):
     """The disk behind the writing of records of which only the first signs came to stand, so many."""
     return records_text(records_of(disk)) + records_text(records)[:keep]
+
+
+def _same(control):
+    """The triple of a control that has nothing to tell."""
+    return {**control}, [], ()
 
 
 class Ruler:
@@ -88,27 +88,28 @@ class Ruler:
 
     def __init__(self, query):
         self._query = query
-        # By workers: all tasks, those of sources, and those that hold rows.
+        # By workers: the tasks that are to keep their states, those whose rows are to be held, and those that are told
+        # to begin.
         self._crews = {}
 
     def _crew(self, workers):
         if workers not in self._crews:
-            everyone, sources = all_tasks(self._query, workers), sources_of(self._query)
-            reading = tuple([task for task in everyone if task[0] in sources])
-            holding = tuple([task for task in everyone if task[0] in sources or task[0] == "out"])
-            self._crews[workers] = (everyone, reading, holding)
+            tasks, sources = all_tasks(self._query, workers), sources_of(self._query)
+            begin_tasks = tuple([task for task in tasks if task[0] in sources])
+            held_tasks = tuple([task for task in tasks if task[0] in sources or task[0] == "out"])
+            self._crews[workers] = {"kept": tasks, "held": held_tasks, "begin": begin_tasks}
         return self._crews[workers]
 
     def again(self, control):
         """The letters that control waits to be answered, ascending."""
         epoch, last = control["epoch"], control["last"]
         if control["phase"] == "commit":
-            return (("commit", control["last_epoch"], last, self._crew(control["last_workers"])[2]),)
+            return (("commit", control["last_epoch"], last, self._crew(control["last_workers"])["held"]),)
         if control["phase"] == "drop":
             return (("drop", epoch, last),)
         if control["phase"] == "run":
             return ()
-        left = [task for task in self._crew(control["workers"])[1] if task not in control["kept"]]
+        left = [task for task in self._crew(control["workers"])["begin"] if task not in control["kept"]]
         return tuple([("begin", epoch, last + 1, task) for task in left])
 
     def _changed(self, control, phase, records):
@@ -139,12 +140,11 @@ class Ruler:
         field, task = letter[0], letter[3]
         if control["phase"] != "barrier" or letter[1:3] != (control["epoch"], control["last"] + 1):
             return _same(control)
-        everyone, _, holding = self._crew(control["workers"])
-        awaited = {"kept": everyone, "held": holding}
+        awaited = self._crew(control["workers"])
         if not is_any_task(task) or task not in awaited[field] or task in control[field]:
             return _same(control)
         told = {**control, field: tuple(sorted(control[field] + (task,)))}
-        if all(told[other] == awaited[other] for other in awaited):
+        if told["kept"] == awaited["kept"] and told["held"] == awaited["held"]:
             return self._completed(told)
         return _same(told)
 

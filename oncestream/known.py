@@ -148,7 +148,7 @@ class KnownShelf:
         """Cuts the torn end away."""
         self._seals.mend()
 
-    def clear(self, epoch, n):
+    def forget(self, epoch, n):
         """Takes away what is elder than this epoch and number, and the torn end."""
         self._seals.leave([pair for pair in self._seals.pairs if _numbers_of(pair[1]) >= (epoch, n)])
         self._told = {key: self._told[key] for key in self._told if key >= (epoch, n)}

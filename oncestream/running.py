@@ -143,7 +143,7 @@ class Run:
         control, cuts = fields["control"], fields["cuts"]
         if control["last"] > len(cuts):
             fields["cuts"] = cuts + ((control["last"], self._last_places()),)
-            self.shelf().clear(control["last_epoch"], control["last"])
+            self.shelf().forget(control["last_epoch"], control["last"])
             fields["shelf"] = self.shelf().stands()
             self._begun = {}
         if control["epoch"] != epoch:

@@ -105,7 +105,7 @@ class Shelves(unittest.TestCase):
                     shelf = mended(shelf)
                 if draw.random() < 0.15:
                     epoch, n = draw.choice(keys)
-                    known.clear(epoch, n)
+                    known.forget(epoch, n)
                     shelf = cleared(shelf, epoch, n)
                 if draw.random() < 0.15:
                     known = KnownShelf(shelf)
